@@ -11,6 +11,7 @@ import (
 	"testing"
 	"time"
 
+	"coppice/draw"
 	"coppice/sum"
 )
 
@@ -74,28 +75,9 @@ func product(a, b uint32) uint32 {
 	return p
 }
 
-// numbers is a row that is the same each time, and looks like no rule.
-type numbers uint64
+func word(r *draw.Numbers) uint32 { return uint32(r.Next() >> 32) }
 
-func (r *numbers) next() uint64 {
-	*r += 0x9E3779B97F4A7C15
-	z := uint64(*r)
-	z = (z ^ z>>30) * 0xBF58476D1CE4E5B9
-	z = (z ^ z>>27) * 0x94D049BB133111EB
-	return z ^ z>>31
-}
-
-func (r *numbers) word() uint32 { return uint32(r.next() >> 32) }
-
-func (r *numbers) count() int { return int(r.next() >> 1) }
-
-func (r *numbers) row(n int) []byte {
-	b := make([]byte, n)
-	for i := range b {
-		b[i] = byte(r.next())
-	}
-	return b
-}
+func count(r *draw.Numbers) int { return int(r.Next() >> 1) }
 
 // rows are rows of bytes of many lengths, the first ones each byte alone.
 func rows() [][]byte {
@@ -103,11 +85,11 @@ func rows() [][]byte {
 	for i := range 256 {
 		list = append(list, []byte{byte(i)})
 	}
-	r := numbers(1)
+	r := draw.Numbers(1)
 	for n := range 70 {
-		list = append(list, r.row(n), make([]byte, n))
+		list = append(list, r.Bytes(n), make([]byte, n))
 	}
-	return append(list, r.row(512), r.row(4096), r.row(100001))
+	return append(list, r.Bytes(512), r.Bytes(4096), r.Bytes(100001))
 }
 
 // words are numbers of 32 bits: the ends, each bit alone, and others.
@@ -116,9 +98,9 @@ func words() []uint32 {
 	for i := range 32 {
 		list = append(list, 1<<i)
 	}
-	r := numbers(2)
+	r := draw.Numbers(2)
 	for range 30 {
-		list = append(list, r.word())
+		list = append(list, word(&r))
 	}
 	return list
 }
@@ -130,9 +112,9 @@ func counts() []int {
 	for i := 1; i < 63; i++ {
 		list = append(list, 1<<i-1, 1<<i, 1<<i+1)
 	}
-	r := numbers(3)
+	r := draw.Numbers(3)
 	for range 40 {
-		list = append(list, r.count())
+		list = append(list, count(&r))
 	}
 	return list
 }
@@ -276,9 +258,9 @@ func TestP1_5Parts(t *testing.T) {
 }
 
 func TestP1_6InAnyOrder(t *testing.T) {
-	r := numbers(4)
+	r := draw.Numbers(4)
 	check := func(m, n int) {
-		a, b, c := r.word(), r.word(), r.word()
+		a, b, c := word(&r), word(&r), word(&r)
 		alike(t, call("Join of Join", a, b, m, c, n), sum.Join(sum.Join(a, b, m), c, n), sum.Join(a, sum.Join(b, c, n), m+n))
 		alike(t, call("Join of Zeros", m, n), sum.Join(sum.Zeros(m), sum.Zeros(n), n), sum.Zeros(m+n))
 	}
@@ -292,15 +274,15 @@ func TestP1_6InAnyOrder(t *testing.T) {
 		check(0, m)
 		check(m, math.MaxInt-m)
 		check(math.MaxInt-m, m)
-		check(m/2, r.count()/2)
+		check(m/2, count(&r)/2)
 	}
 }
 
 func TestP1_7NoCarry(t *testing.T) {
-	r := numbers(5)
+	r := draw.Numbers(5)
 	for _, n := range append(counts(), -1, math.MinInt) {
 		for range 4 {
-			a, b, c, d := r.word(), r.word(), r.word(), r.word()
+			a, b, c, d := word(&r), word(&r), word(&r), word(&r)
 			alike(t, call("Join", a^c, b^d, n), sum.Join(a^c, b^d, n), sum.Join(a, b, n)^sum.Join(c, d, n))
 		}
 		alike(t, call("Join", uint32(0), uint32(0), n), sum.Join(0, 0, n), 0)
@@ -308,13 +290,13 @@ func TestP1_7NoCarry(t *testing.T) {
 }
 
 func TestP1_8TheRound(t *testing.T) {
-	r := numbers(6)
+	r := draw.Numbers(6)
 	const last = math.MaxInt - round // 2^63 - 2^31
 	for _, n := range append(counts(), last, last-1, last-round) {
 		if n > last {
 			continue
 		}
-		a, b := r.word(), r.word()
+		a, b := word(&r), word(&r)
 		alike(t, call("Join", a, b, n+round), sum.Join(a, b, n+round), sum.Join(a, b, n))
 		alike(t, call("Zeros", n+round), sum.Zeros(n+round), sum.Zeros(n))
 	}
@@ -341,12 +323,12 @@ func flipped(b []byte, at int, mask uint32) ([]byte, bool) {
 }
 
 func TestP1_9ToldForCertain(t *testing.T) {
-	r := numbers(7)
+	r := draw.Numbers(7)
 	for _, n := range []int{1, 2, 4, 5, 9, 64, 500} {
-		b := r.row(n)
+		b := r.Bytes(n)
 		s := sum.Of(b)
 		for at := range 8 * n {
-			for _, mask := range append(words(), 0x80000001, r.word()|1) {
+			for _, mask := range append(words(), 0x80000001, word(&r)|1) {
 				c, ok := flipped(b, at, mask)
 				if ok && mask != 0 && sum.Of(c) == s {
 					t.Errorf("of %d bytes: the bits %08X from bit %d on are turned, and the sum is the same", n, mask, at)
@@ -357,8 +339,8 @@ func TestP1_9ToldForCertain(t *testing.T) {
 }
 
 func TestP1_9OtherBytes(t *testing.T) {
-	r := numbers(8)
-	b := r.row(40)
+	r := draw.Numbers(8)
+	b := r.Bytes(40)
 	s := sum.Of(b)
 	for i := range b {
 		for x := range 256 {
@@ -372,7 +354,7 @@ func TestP1_9OtherBytes(t *testing.T) {
 	for i := range len(b) - 3 {
 		for range 200 {
 			c := slices.Clone(b)
-			binary.BigEndian.PutUint32(c[i:], r.word())
+			binary.BigEndian.PutUint32(c[i:], word(&r))
 			if same := bytes.Equal(b, c); (sum.Of(c) == s) != same {
 				t.Errorf("four bytes from %d on are %x in place of %x: is the sum the same? %v", i, c[i:i+4], b[i:i+4], !same)
 			}
@@ -389,8 +371,8 @@ func TestP1_10ItsOwnSumBehindIt(t *testing.T) {
 
 // R4: what is handed in is not changed, its spare room included, and not kept.
 func TestR4ArgumentsAreLeftAlone(t *testing.T) {
-	r := numbers(9)
-	room := r.row(200)
+	r := draw.Numbers(9)
+	room := r.Bytes(200)
 	before := slices.Clone(room)
 	b := room[50:120]
 	of, more := sum.Of(b), sum.More(7, b)
@@ -411,8 +393,8 @@ func TestR4ArgumentsAreLeftAlone(t *testing.T) {
 
 // R5: an answer hangs on the arguments alone, whoever else is asking.
 func TestR5SameAnswers(t *testing.T) {
-	r := numbers(10)
-	b := r.row(300)
+	r := draw.Numbers(10)
+	b := r.Bytes(300)
 	var group sync.WaitGroup
 	for i := range 8 {
 		group.Go(func() {

@@ -283,24 +283,3 @@ func gave(t *testing.T, what string, x uint64, b []byte, wantX uint64, wantB []b
 		t.Errorf("%s = %x, %x; want %x, %x", what, x, b, wantX, wantB)
 	}
 }
-
-// numbers is a row that is the same each time, and looks like no rule.
-type numbers uint64
-
-func (r *numbers) next() uint64 {
-	*r += 0x9E3779B97F4A7C15
-	z := uint64(*r)
-	z = (z ^ z>>30) * 0xBF58476D1CE4E5B9
-	z = (z ^ z>>27) * 0x94D049BB133111EB
-	return z ^ z>>31
-}
-
-func (r *numbers) below(n int) int { return int(r.next() % uint64(n)) }
-
-func (r *numbers) row(n int) []byte {
-	b := make([]byte, n)
-	for i := range b {
-		b[i] = byte(r.next())
-	}
-	return b
-}

@@ -9,6 +9,7 @@ import (
 	"testing"
 
 	"coppice/api"
+	"coppice/draw"
 	"coppice/wire"
 )
 
@@ -85,8 +86,8 @@ func reads() []struct {
 	num  uint64
 	b    []byte
 } {
-	r := numbers(11)
-	some, most := r.row(20), r.row(255)
+	r := draw.Numbers(11)
+	some, most := r.Bytes(20), r.Bytes(255)
 	return []struct {
 		part part
 		in   []byte
@@ -304,33 +305,33 @@ func TestP2_4EndChangesNothing(t *testing.T) {
 }
 
 // script is parts in a row, filled up at the end, with what they are as bytes.
-func script(r *numbers) ([]part, []byte) {
+func script(r *draw.Numbers) ([]part, []byte) {
 	w := wire.NewWriter(api.MaxStream)
 	var list []part
-	for range 1 + r.below(8) {
-		p := part{way: r.below(fill), num: r.next()}
+	for range 1 + r.Below(8) {
+		p := part{way: r.Below(fill), num: r.Next()}
 		if p.way < raw {
 			p.num &= 1<<(8<<p.way-1)<<1 - 1 // what the width holds
 		} else {
-			p.num, p.b = 0, r.row(r.below(12))
+			p.num, p.b = 0, r.Bytes(r.Below(12))
 			p.n = len(p.b)
 		}
 		write(w, p)
 		list = append(list, p)
 	}
-	w.Fill(w.Len() + r.below(6))
+	w.Fill(w.Len() + r.Below(6))
 	b, _ := w.Done()
 	return list, b
 }
 
 func TestP2_5WhatWasWrittenIsReadAgain(t *testing.T) {
-	r := numbers(12)
+	r := draw.Numbers(12)
 	for range 1500 {
 		list, all := script(&r)
 		back := wire.NewReader(all)
 		for _, p := range list {
 			if p.way == short {
-				p.n += r.below(3) // a most that is not below
+				p.n += r.Below(3) // a most that is not below
 			}
 			num, b := read(back, p)
 			gave(t, p.String(), num, b, p.num, p.b)
@@ -346,7 +347,7 @@ func TestP2_5WhatWasWrittenIsReadAgain(t *testing.T) {
 // Of each beginning: what is there whole is read; the first part that lacks a
 // byte, and all behind it, answers the zero value.
 func TestP2_5Beginnings(t *testing.T) {
-	r := numbers(13)
+	r := draw.Numbers(13)
 	for range 150 {
 		list, all := script(&r)
 		for n := range all {
@@ -393,11 +394,11 @@ func TestP2_5TwoReaders(t *testing.T) {
 }
 
 func TestReadersFollowTheWords(t *testing.T) {
-	r := numbers(14)
+	r := draw.Numbers(14)
 	for range 6000 {
-		in := r.row(r.below(40))
+		in := r.Bytes(r.Below(40))
 		for i := range in {
-			switch r.below(3) {
+			switch r.Below(3) {
 			case 0:
 				in[i] = 0
 			case 1:
@@ -406,11 +407,11 @@ func TestReadersFollowTheWords(t *testing.T) {
 		}
 		back, m := wire.NewReader(in), &modelReader{bytes: in}
 		for range 12 {
-			p := part{way: r.below(ways), n: r.below(12)}
-			if r.below(60) == 0 {
-				p.n = -r.below(3)
+			p := part{way: r.Below(ways), n: r.Below(12)}
+			if r.Below(60) == 0 {
+				p.n = -r.Below(3)
 			}
-			if p.way == zeros && r.below(4) > 0 {
+			if p.way == zeros && r.Below(4) > 0 {
 				p.way = raw
 			}
 			num, b := read(back, p)
@@ -494,7 +495,7 @@ func TestR5AlwaysTheSame(t *testing.T) {
 	var all sync.WaitGroup
 	for k := range 8 {
 		all.Go(func() {
-			r := numbers(15)
+			r := draw.Numbers(15)
 			for range 50 {
 				list, in := script(&r)
 				back := wire.NewReader(slices.Grow(in, 100*k))

@@ -8,6 +8,7 @@ import (
 	"testing"
 
 	"coppice/api"
+	"coppice/draw"
 	"coppice/wire"
 )
 
@@ -80,8 +81,8 @@ func parts(have int) []struct {
 	part part
 	want []byte
 } {
-	r := numbers(1)
-	some, most := r.row(20), r.row(255)
+	r := draw.Numbers(1)
+	some, most := r.Bytes(20), r.Bytes(255)
 	return []struct {
 		part part
 		want []byte
@@ -166,9 +167,9 @@ func TestP2_1Most(t *testing.T) {
 }
 
 func TestP2_1Short(t *testing.T) {
-	r := numbers(2)
+	r := draw.Numbers(2)
 	for _, n := range []int{0, 1, 2, 127, 128, 254, 255} {
-		b := r.row(n)
+		b := r.Bytes(n)
 		w := wire.NewWriter(1000)
 		w.Raw([]byte{9})
 		w.Short(b)
@@ -262,9 +263,9 @@ func TestP2_2DoneAtAnyTime(t *testing.T) {
 	w := wire.NewWriter(400)
 	m := newModelWriter(400)
 	wrote(t, "a new one", w, nil, api.OK)
-	r := numbers(3)
+	r := draw.Numbers(3)
 	for range 30 {
-		for _, p := range []part{{way: wide8, num: r.next()}, {way: wide32, num: r.next()}, {way: raw, b: r.row(3)}, {way: short, b: r.row(4)}, {way: fill, n: len(m.bytes) + 16}} {
+		for _, p := range []part{{way: wide8, num: r.Next()}, {way: wide32, num: r.Next()}, {way: raw, b: r.Bytes(3)}, {way: short, b: r.Bytes(4)}, {way: fill, n: len(m.bytes) + 16}} {
 			write(w, p)
 			m.write(p)
 			wrote(t, p.String(), w, m.bytes, m.first)
@@ -295,15 +296,15 @@ func TestP2_5TwoWriters(t *testing.T) {
 }
 
 func TestWritersFollowTheWords(t *testing.T) {
-	r := numbers(4)
+	r := draw.Numbers(4)
 	for range 4000 {
-		most := r.below(70) - 3
+		most := r.Below(70) - 3
 		w, m := wire.NewWriter(most), newModelWriter(most)
 		for range 12 {
-			p := part{way: r.below(fill + 1), num: r.next(), n: r.below(40) - 2}
-			p.b = r.row(r.below(9))
-			if r.below(40) == 0 {
-				p.b = r.row(250 + r.below(9))
+			p := part{way: r.Below(fill + 1), num: r.Next(), n: r.Below(40) - 2}
+			p.b = r.Bytes(r.Below(9))
+			if r.Below(40) == 0 {
+				p.b = r.Bytes(250 + r.Below(9))
 			}
 			write(w, p)
 			m.write(p)
@@ -317,8 +318,8 @@ func TestWritersFollowTheWords(t *testing.T) {
 
 // What is handed in is not changed, its spare room included, and not kept.
 func TestP2_6WhatAWriterIsHanded(t *testing.T) {
-	r := numbers(5)
-	room := r.row(40)
+	r := draw.Numbers(5)
+	room := r.Bytes(40)
 	before := slices.Clone(room)
 	b := room[10:20]
 	for _, shortOne := range []bool{false, true} {
