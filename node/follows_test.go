@@ -93,8 +93,7 @@ func TestP12_7Halves(t *testing.T) {
 	}
 }
 
-// Halves of pages that Check refuses are the page again too, but where the first
-// Key of an index's right half was.
+// Halves of pages that Check refuses are the page again too.
 func TestP12_7HalvesOfAnyPage(t *testing.T) {
 	r, splits := draw.Numbers(128), 0
 	for range 60000 {
