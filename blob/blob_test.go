@@ -10,6 +10,7 @@ import (
 	"coppice/blob"
 	"coppice/draw"
 	"coppice/vault"
+	"coppice/view"
 )
 
 // The chapter's table, row by row.
@@ -19,9 +20,9 @@ func TestExamples(t *testing.T) {
 	}
 	v := newVault(t, 3)
 	first := stores(t, v, []byte("k"), value(32))
-	equal(t, "the first item", itemText(first), itemText(api.Item{Key: []byte("k"), Value: value(32), Size: 32}))
+	equal(t, "the first item", view.Item(first), view.Item(api.Item{Key: []byte("k"), Value: value(32), Size: 32}))
 	second := stores(t, v, []byte("k"), value(500))
-	equal(t, "the second item", itemText(second), itemText(api.Item{Key: []byte("k"), Child: 2, Size: 500}))
+	equal(t, "the second item", view.Item(second), view.Item(api.Item{Key: []byte("k"), Child: 2, Size: 500}))
 	reads(t, v, 1, api.Page{Kind: blobKind, Data: value(500)[480:]})
 	reads(t, v, 2, api.Page{Kind: blobKind, Data: value(500)[:480], Next: 1})
 	unchanged(t, v, func() { storesNot(t, v, []byte("l"), value(481), errSpace) })
@@ -79,13 +80,13 @@ func TestP13_2Items(t *testing.T) {
 		v := newVault(t, 9)
 		i := stores(t, v, []byte("key"), value(n))
 		if n <= inline {
-			equal(t, "a short value", itemText(i), itemText(api.Item{Key: []byte("key"), Value: value(n), Size: n}))
+			equal(t, "a short value", view.Item(i), view.Item(api.Item{Key: []byte("key"), Value: value(n), Size: n}))
 			equal(t, "Free", v.Tally(free), 9)
 			equal(t, "Mark", v.Mark(), 0)
 			continue
 		}
 		pages := pagesOf(n)
-		equal(t, "a long value", itemText(i), itemText(api.Item{Key: []byte("key"), Child: pages, Size: n}))
+		equal(t, "a long value", view.Item(i), view.Item(api.Item{Key: []byte("key"), Child: pages, Size: n}))
 		equal(t, "Fresh", v.Tally(fresh), pages)
 		for at := range pages {
 			to := min((at+1)*chunk, n)
@@ -148,13 +149,13 @@ func TestP13_2Room(t *testing.T) {
 			v := withFree(t, 20, lie[:many]...)
 			need, mark := taken(n), v.Mark()
 			if many >= need {
-				before := look(v)
+				before := view.Vault(v)
 				i := stores(t, v, []byte("k"), value(n))
 				equal(t, "Free", v.Tally(free), many-need)
 				loads(t, v, i, value(n))
 				equal(t, "Mark is not below", v.Mark() >= mark, true)
 				equal(t, "Undo", v.Undo(mark), true)
-				equal(t, "behind Undo", look(v), before)
+				equal(t, "behind Undo", view.Vault(v), before)
 				continue
 			}
 			unchanged(t, v, func() { storesNot(t, v, []byte("k"), value(n), errSpace) })
@@ -169,7 +170,7 @@ func goesOn(t *testing.T, v, w *vault.Vault) {
 	t.Helper()
 	same := func() {
 		t.Helper()
-		equal(t, "what is to be seen", look(v), look(w))
+		equal(t, "what is to be seen", view.Vault(v), view.Vault(w))
 		equal(t, "Mark", v.Mark(), w.Mark())
 	}
 	same()
@@ -230,7 +231,7 @@ func TestP13_2WhichPages(t *testing.T) {
 				equal(t, "Count", v.Count(no), 1)
 				was.Make(api.Page{Kind: blobKind, Data: value(n)[from:min(from+chunk, n)], Next: next})
 			}
-			equal(t, "all else", look(v), look(was))
+			equal(t, "all else", view.Vault(v), view.Vault(was))
 		}
 	}
 }

@@ -8,6 +8,7 @@ import (
 	"coppice/blob"
 	"coppice/draw"
 	"coppice/vault"
+	"coppice/view"
 )
 
 // Without pages there is nothing to be dropped, whatever Child and Value say.
@@ -40,13 +41,13 @@ func TestP13_4IsDrop(t *testing.T) {
 				} else {
 					releases(t, v, api.Item{Key: []byte("k"), Value: value(3), Child: child, Size: size}, 0)
 				}
-				equal(t, "what is to be seen", look(v), look(w))
+				equal(t, "what is to be seen", view.Vault(v), view.Vault(w))
 				mark := 0
 				if kept && v.Count(child) > 0 {
 					mark = 1
 				}
 				equal(t, "Undo", v.Undo(mark), w.Undo(mark))
-				equal(t, "behind Undo", look(v), look(w))
+				equal(t, "behind Undo", view.Vault(v), view.Vault(w))
 			}
 		}
 	}
@@ -57,7 +58,7 @@ func TestP13_4Twice(t *testing.T) {
 	for _, n := range sizes() {
 		v := newVault(t, 9)
 		i := stores(t, v, []byte("k"), value(n))
-		mark, seen := v.Mark(), look(v)
+		mark, seen := v.Mark(), view.Vault(v)
 		releases(t, v, i, 0)
 		equal(t, "Free", v.Tally(free), 9)
 		if n > inline {
@@ -67,7 +68,7 @@ func TestP13_4Twice(t *testing.T) {
 			})
 		}
 		equal(t, "Undo", v.Undo(mark), true)
-		equal(t, "behind Undo", look(v), seen)
+		equal(t, "behind Undo", view.Vault(v), seen)
 		loads(t, v, i, value(n))
 	}
 }
@@ -99,7 +100,7 @@ func TestP13_5ThereAndBack(t *testing.T) {
 
 func thereAndBack(t *testing.T, v *vault.Vault, n int, settled bool) {
 	t.Helper()
-	frees, counts, seen := v.Tally(free), fmt.Sprint(v.Counts()), look(v)
+	frees, counts, seen := v.Tally(free), fmt.Sprint(v.Counts()), view.Vault(v)
 	i := stores(t, v, []byte("key"), value(n))
 	equal(t, "pages that were taken", frees-v.Tally(free), taken(n))
 	loads(t, v, i, value(n))
@@ -120,7 +121,7 @@ func thereAndBack(t *testing.T, v *vault.Vault, n int, settled bool) {
 		v.Settle()
 		equal(t, "Free behind Settle", v.Tally(free), frees+taken(n))
 	} else {
-		equal(t, "what is to be seen", look(v), seen)
+		equal(t, "what is to be seen", view.Vault(v), seen)
 	}
 }
 
@@ -135,7 +136,7 @@ func TestP13_6TwoStores(t *testing.T) {
 			j := stores(t, v, []byte("b"), value(m))
 			for no, was := range before {
 				p, _ := v.Read(no)
-				equal(t, "a page of the first one", fmt.Sprint(v.Count(no), v.State(no), text(p)), was)
+				equal(t, "a page of the first one", fmt.Sprint(v.Count(no), v.State(no), view.Page(p)), was)
 			}
 			equal(t, "Fresh", v.Tally(fresh), taken(n)+taken(m))
 			loads(t, v, i, value(n))
@@ -152,7 +153,7 @@ func pagesText(v *vault.Vault) map[int]string {
 	l := map[int]string{}
 	for _, state := range []int{pending, fresh, held} {
 		for n, p := range v.Pages(state) {
-			l[n] = fmt.Sprint(v.Count(n), v.State(n), text(p))
+			l[n] = fmt.Sprint(v.Count(n), v.State(n), view.Page(p))
 		}
 	}
 	return l
@@ -263,12 +264,12 @@ func sound(t *testing.T, v *vault.Vault, items []stored) {
 func TestR5TwoVaults(t *testing.T) {
 	v, w := withFree(t, 12, 2, 3, 7, 11), withFree(t, 12, 2, 3, 7, 11)
 	i := stores(t, v, []byte("k"), value(1000))
-	was := look(w)
+	was := view.Vault(w)
 	releases(t, v, i, 0)
 	stores(t, v, []byte("l"), value(50))
-	equal(t, "the other one", look(w), was)
+	equal(t, "the other one", view.Vault(w), was)
 	j := stores(t, w, []byte("k"), value(1000))
-	equal(t, "the same answer", itemText(j), itemText(i))
+	equal(t, "the same answer", view.Item(j), view.Item(i))
 	if b, e := blob.Load(v, j); e == 0 || b != nil {
 		t.Fatalf("Load of another vault's item = %x, %d", b, e)
 	}

@@ -4,12 +4,12 @@ import (
 	"bytes"
 	"fmt"
 	"slices"
-	"strings"
 	"testing"
 
 	"coppice/api"
 	"coppice/blob"
 	"coppice/vault"
+	"coppice/view"
 )
 
 // The calls have just these types.
@@ -67,49 +67,17 @@ func short(value string) api.Item {
 	return api.Item{Key: []byte("k"), Value: []byte(value), Size: len(value)}
 }
 
-func itemText(i api.Item) string {
-	return fmt.Sprintf("%x=%x>%d#%d", i.Key, i.Value, i.Child, i.Size)
-}
-
-// text is a page as a text; nil and an empty list are the same there.
-func text(p api.Page) string {
-	var s strings.Builder
-	fmt.Fprintf(&s, "%d/%d", p.Kind, p.Level)
-	for _, i := range p.Items {
-		s.WriteString(" " + itemText(i))
-	}
-	fmt.Fprintf(&s, " %x>%d", p.Data, p.Next)
-	return s.String()
-}
-
-// look is all that can be seen of a vault without changing it, but for Mark.
-func look(v *vault.Vault) string {
-	var s strings.Builder
-	fmt.Fprintf(&s, "%d pages, refs %d, counts %v; ", v.Len(), v.Refs(), v.Counts())
-	for n := 0; n <= v.Len()+1; n++ {
-		p, e := v.Read(n)
-		fmt.Fprintf(&s, "%d: %d in %d: %s, %d; ", n, v.Count(n), v.State(n), text(p), e)
-	}
-	for state := free; state <= held; state++ {
-		fmt.Fprintf(&s, "state %d: %d: ", state, v.Tally(state))
-		for n, p := range v.Pages(state) {
-			fmt.Fprintf(&s, "%d: %s; ", n, text(p))
-		}
-	}
-	return s.String()
-}
-
 // unchanged does something, behind which all must be as it was, Mark too, and what
 // Undo answers of it and of its neighbours.
 func unchanged(t *testing.T, v *vault.Vault, do func()) {
 	t.Helper()
-	seen, mark := look(v), v.Mark()
+	seen, mark := view.Vault(v), v.Mark()
 	do()
-	equal(t, "behind a call that changes nothing", look(v), seen)
+	equal(t, "behind a call that changes nothing", view.Vault(v), seen)
 	equal(t, "Mark behind it", v.Mark(), mark)
 	equal(t, "Undo(Mark + 1) behind it", v.Undo(mark+1), false)
 	equal(t, "Undo(Mark) behind it", v.Undo(mark), true)
-	equal(t, "behind Undo(Mark)", look(v), seen)
+	equal(t, "behind Undo(Mark)", view.Vault(v), seen)
 }
 
 // equal holds an answer against what is wanted.
@@ -172,7 +140,7 @@ func stores(t *testing.T, v *vault.Vault, key, value []byte) api.Item {
 	t.Helper()
 	i, e := blob.Store(v, key, value)
 	if e != 0 || !bytes.Equal(i.Key, key) || i.Size != len(value) {
-		t.Fatalf("Store(%x, %d bytes) = %s, %d", key, len(value), itemText(i), e)
+		t.Fatalf("Store(%x, %d bytes) = %s, %d", key, len(value), view.Item(i), e)
 	}
 	return i
 }
@@ -182,14 +150,14 @@ func storesNot(t *testing.T, v *vault.Vault, key, value []byte, want api.Errno) 
 	t.Helper()
 	i, e := blob.Store(v, key, value)
 	if e != want || i.Key != nil || i.Value != nil || i.Child != 0 || i.Size != 0 {
-		t.Fatalf("Store(%d bytes, %d bytes) = %s, %d; want %d", len(key), len(value), itemText(i), e, want)
+		t.Fatalf("Store(%d bytes, %d bytes) = %s, %d; want %d", len(key), len(value), view.Item(i), e, want)
 	}
 }
 
 func loads(t *testing.T, v *vault.Vault, i api.Item, want []byte) {
 	t.Helper()
 	if b, e := blob.Load(v, i); e != 0 || !bytes.Equal(b, want) {
-		t.Fatalf("Load(%s) = %x, %d; want %x", itemText(i), b, e, want)
+		t.Fatalf("Load(%s) = %x, %d; want %x", view.Item(i), b, e, want)
 	}
 }
 
@@ -197,20 +165,20 @@ func loads(t *testing.T, v *vault.Vault, i api.Item, want []byte) {
 func loadsNot(t *testing.T, v *vault.Vault, i api.Item, want api.Errno) {
 	t.Helper()
 	if b, e := blob.Load(v, i); e != want || b != nil {
-		t.Fatalf("Load(%s) = %d bytes, %d; want %d", itemText(i), len(b), e, want)
+		t.Fatalf("Load(%s) = %d bytes, %d; want %d", view.Item(i), len(b), e, want)
 	}
 }
 
 func releases(t *testing.T, v *vault.Vault, i api.Item, want api.Errno) {
 	t.Helper()
-	equal(t, "Release of "+itemText(i), blob.Release(v, i), want)
+	equal(t, "Release of "+view.Item(i), blob.Release(v, i), want)
 }
 
 func reads(t *testing.T, v *vault.Vault, n int, want api.Page) {
 	t.Helper()
 	p, e := v.Read(n)
 	equal(t, fmt.Sprintf("Read(%d)", n), e, 0)
-	equal(t, fmt.Sprintf("Read(%d)", n), text(p), text(want))
+	equal(t, fmt.Sprintf("Read(%d)", n), view.Page(p), view.Page(want))
 }
 
 // sizes is lengths of values on both sides of each bound.

@@ -8,6 +8,7 @@ import (
 	"coppice/api"
 	"coppice/blob"
 	"coppice/draw"
+	"coppice/view"
 )
 
 // A Size that no value has, whatever else the item says.
@@ -266,7 +267,7 @@ func TestP13_3AnyPages(t *testing.T) {
 	for range 4000 {
 		pages := somePages(&r)
 		v := vaultOf(t, pages...)
-		before, mark := look(v), v.Mark()
+		before, mark := view.Vault(v), v.Mark()
 		for range 30 {
 			at := r.Below(len(pages))
 			rest := len(pages[r.Below(len(pages))].Data)
@@ -282,14 +283,14 @@ func TestP13_3AnyPages(t *testing.T) {
 			want, wantE := modelLoad(pages, i)
 			got, e := blob.Load(v, i)
 			if e != wantE || !bytes.Equal(got, want) || e != 0 && got != nil {
-				t.Fatalf("Load(%s) = %d bytes, %d; want %d bytes, %d: %s", itemText(i), len(got), e, len(want), wantE, before)
+				t.Fatalf("Load(%s) = %d bytes, %d; want %d bytes, %d: %s", view.Item(i), len(got), e, len(want), wantE, before)
 			}
 			met[e]++
 			if e == 0 && len(got) > chunk {
 				met[-1]++
 			}
 		}
-		equal(t, "the vault", look(v), before)
+		equal(t, "the vault", view.Vault(v), before)
 		equal(t, "Mark", v.Mark(), mark)
 	}
 	for _, e := range []api.Errno{-1, 0, errForm, errValue, errPage} {

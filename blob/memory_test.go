@@ -7,6 +7,7 @@ import (
 
 	"coppice/api"
 	"coppice/blob"
+	"coppice/view"
 )
 
 // mark fills the spare room of lists.
@@ -42,11 +43,11 @@ func TestR4StoreIsHanded(t *testing.T) {
 			key, val := room([]byte("key")), room(value(n))
 			i, e := blob.Store(v, key, val)
 			equal(t, "untouched", untouched(key, []byte("key")) && untouched(val, value(n)), true)
-			seen, was := look(v), itemText(i)
+			seen, was := view.Vault(v), view.Item(i)
 			turn(key)
 			turn(val)
-			equal(t, "the item", itemText(i), was)
-			equal(t, "the vault", look(v), seen)
+			equal(t, "the item", view.Item(i), was)
+			equal(t, "the vault", view.Vault(v), seen)
 			if e == 0 {
 				loads(t, v, i, value(n))
 			}
@@ -66,12 +67,12 @@ func TestR4StoreAnswers(t *testing.T) {
 		v := newVault(t, 16)
 		key, val := room([]byte("key")), room(value(n))
 		i, j := stores(t, v, key, val), stores(t, v, key, val)
-		seen, was := look(v), itemText(j)
+		seen, was := view.Vault(v), view.Item(j)
 		turn(i.Key)
 		turn(i.Value)
 		equal(t, "untouched", untouched(key, []byte("key")) && untouched(val, value(n)), true)
-		equal(t, "another item", itemText(j), was)
-		equal(t, "the vault", look(v), seen)
+		equal(t, "another item", view.Item(j), was)
+		equal(t, "the vault", view.Vault(v), seen)
 		loads(t, v, j, value(n))
 	}
 }
@@ -98,17 +99,17 @@ func TestR4Load(t *testing.T) {
 		i := stores(t, v, []byte("key"), value(n))
 		i.Key, i.Value = room(i.Key), room(i.Value)
 		key, val := slices.Clone(i.Key), slices.Clone(i.Value)
-		seen := look(v)
+		seen := view.Vault(v)
 		a, _ := blob.Load(v, i)
 		b, _ := blob.Load(v, i)
 		turn(a)
 		equal(t, "untouched", untouched(i.Key, key) && untouched(i.Value, val), true)
 		equal(t, "another answer", string(b), string(value(n)))
-		equal(t, "the vault", look(v), seen)
+		equal(t, "the vault", view.Vault(v), seen)
 		turn(i.Key)
 		turn(i.Value)
 		equal(t, "the answer", string(b), string(value(n)))
-		equal(t, "the vault", look(v), seen)
+		equal(t, "the vault", view.Vault(v), seen)
 	}
 }
 
@@ -133,7 +134,7 @@ func TestR4RefusedAndReleased(t *testing.T) {
 func TestR3R5Lists(t *testing.T) {
 	v, w := newVault(t, 1), newVault(t, 1)
 	i, j := stores(t, v, []byte("k"), nil), stores(t, w, room([]byte("k")), []byte{})
-	equal(t, "the item", itemText(i), itemText(j))
+	equal(t, "the item", view.Item(i), view.Item(j))
 	storesNot(t, v, nil, value(maxValue+1), errKey)
 	storesNot(t, v, []byte{}, value(maxValue+1), errKey)
 	storesNot(t, v, room(nil), nil, errKey)
@@ -145,7 +146,7 @@ func TestR3R5Lists(t *testing.T) {
 	for _, n := range sizes() {
 		v, w := newVault(t, 8), newVault(t, 8)
 		i, j := stores(t, v, []byte("k"), value(n)), stores(t, w, room([]byte("k")), room(value(n)))
-		equal(t, "the item", itemText(i), itemText(j))
-		equal(t, "the vault", look(v), look(w))
+		equal(t, "the item", view.Item(i), view.Item(j))
+		equal(t, "the vault", view.Vault(v), view.Vault(w))
 	}
 }
