@@ -7,6 +7,7 @@ import (
 
 	"coppice/api"
 	"coppice/draw"
+	"coppice/grove"
 	"coppice/page"
 	"coppice/vault"
 	"coppice/walk"
@@ -506,7 +507,7 @@ func spoiled(r *draw.Numbers, pages []api.Page, tree *api.Tree) []api.Page {
 	case 2, 3:
 		item().Child = anyPage()
 	case 4, 5:
-		item().Key = someKey(r)
+		item().Key = grove.Key(r)
 	case 6:
 		if len(p.Items) > 0 {
 			p.Items = p.Items[:len(p.Items)-1]
@@ -541,9 +542,9 @@ func deep(p api.Page) api.Page {
 func TestP14_5AnyPages(t *testing.T) {
 	r, met := draw.Numbers(152), map[api.Errno]int{}
 	for range 20 {
-		for _, g := range grownTrees(&r, 3) {
+		for _, g := range grove.Trees(&r, 3) {
 			for range 40 {
-				pages, tree := g.pages, g.tree
+				pages, tree := g.Pages, g.Tree
 				for range 1 + r.Below(3) {
 					pages = spoiled(&r, pages, &tree)
 				}
@@ -563,16 +564,16 @@ func TestP14_5AnyPages(t *testing.T) {
 // Trees of all kinds are sound; so is each one beneath an index, as a tree of its own.
 func TestP14_5Sound(t *testing.T) {
 	r := draw.Numbers(153)
-	for _, g := range grownTrees(&r, 4) {
-		for _, v := range []*vault.Vault{g.held(t), g.fresh(t)} {
-			checks(t, v, g.tree, 0)
-			equal(t, "the model", modelCheck(g.pages, g.tree), 0)
-			for h, level := range g.levels {
+	for _, g := range grove.Trees(&r, 4) {
+		for _, v := range []*vault.Vault{heldPages(t, g.Pages...), freshPages(t, g.Pages...)} {
+			checks(t, v, g.Tree, 0)
+			equal(t, "the model", modelCheck(g.Pages, g.Tree), 0)
+			for h, level := range g.Levels {
 				items := 0
 				for _, s := range level {
-					items += g.under(t, v, api.Tree{Root: s.no, Height: h + 1})
+					items += under(t, v, api.Tree{Root: s.No, Height: h + 1})
 				}
-				equal(t, "Items of a level", items, g.tree.Items)
+				equal(t, "Items of a level", items, g.Tree.Items)
 			}
 		}
 	}
@@ -580,7 +581,7 @@ func TestP14_5Sound(t *testing.T) {
 
 // under is how many keys are beneath a page: so many and no other number of them are
 // taken for sound.
-func (g *grown) under(t *testing.T, v *vault.Vault, tree api.Tree) int {
+func under(t *testing.T, v *vault.Vault, tree api.Tree) int {
 	t.Helper()
 	l, e := walk.List(v, api.Tree{Root: tree.Root, Height: tree.Height, Items: 1}, all())
 	equal(t, "List", e, 0)

@@ -9,6 +9,7 @@ import (
 
 	"coppice/api"
 	"coppice/draw"
+	"coppice/grove"
 	"coppice/span"
 	"coppice/vault"
 	"coppice/walk"
@@ -17,26 +18,26 @@ import (
 // Get, List, Scan and Back agree, as do Ceil, Floor and Path with them.
 func TestP14_6OneTree(t *testing.T) {
 	r := draw.Numbers(154)
-	for _, g := range grownTrees(&r, 4) {
-		v := g.held(t)
-		l, e := walk.List(v, g.tree, all())
+	for _, g := range grove.Trees(&r, 4) {
+		v := heldPages(t, g.Pages...)
+		l, e := walk.List(v, g.Tree, all())
 		equal(t, "List", e, 0)
-		equal(t, "how many", len(l), g.tree.Items)
-		lists(t, v, g.tree, all(), l)
+		equal(t, "how many", len(l), g.Tree.Items)
+		lists(t, v, g.Tree, all(), l)
 		for k, x := range l {
-			gets(t, v, g.tree, x.Key, x.Value, true, 0)
-			ceils(t, v, g.tree, x.Key, x)
-			floors(t, v, g.tree, x.Key, x)
+			gets(t, v, g.Tree, x.Key, x.Value, true, 0)
+			ceils(t, v, g.Tree, x.Key, x)
+			floors(t, v, g.Tree, x.Key, x)
 			if k > 0 {
 				equal(t, "rising", bytes.Compare(l[k-1].Key, x.Key), -1)
 			}
-			way, _ := walk.Path(v, g.tree, x.Key)
-			equal(t, "how long the way is", len(way), g.tree.Height)
+			way, _ := walk.Path(v, g.Tree, x.Key)
+			equal(t, "how long the way is", len(way), g.Tree.Height)
 			p, _ := v.Read(way[len(way)-1])
 			equal(t, "the leaf of a key", slices.ContainsFunc(p.Items, func(i api.Item) bool { return bytes.Equal(i.Key, x.Key) }), true)
 		}
-		for _, row := range g.rows(&r, 50) {
-			betweenNeighbours(t, v, g.tree, row, l)
+		for _, row := range g.Rows(&r, 50) {
+			betweenNeighbours(t, v, g.Tree, row, l)
 		}
 	}
 }
@@ -61,19 +62,19 @@ func betweenNeighbours(t *testing.T, v *vault.Vault, tree api.Tree, row []byte, 
 // behind it.
 func TestP14_6Split(t *testing.T) {
 	r := draw.Numbers(155)
-	for _, g := range grownTrees(&r, 3) {
-		v, rows := g.held(t), g.rows(&r, 60)
+	for _, g := range grove.Trees(&r, 3) {
+		v, rows := heldPages(t, g.Pages...), g.Rows(&r, 60)
 		some := func() []byte { return rows[r.Below(len(rows))] }
-		everything, _ := walk.List(v, g.tree, all())
+		everything, _ := walk.List(v, g.Tree, all())
 		for range 100 {
 			rg := api.Range{Lo: some(), Hi: some(), Open: r.Below(3) == 0}
-			whole, _ := walk.List(v, g.tree, rg)
+			whole, _ := walk.List(v, g.Tree, rg)
 			low, high := span.Split(rg, some())
-			a, _ := walk.List(v, g.tree, low)
-			b, _ := walk.List(v, g.tree, high)
+			a, _ := walk.List(v, g.Tree, low)
+			b, _ := walk.List(v, g.Tree, high)
 			equalPairs(t, "the parts of "+show(rg), slices.Concat(a, b), whole)
 			equalPairs(t, "those that lie there", slices.DeleteFunc(slices.Clone(everything), func(x api.Pair) bool { return !span.Has(rg, x.Key) }), whole)
-			equalPairs(t, "the other way round", turned(told(walk.Back(v, g.tree, rg))), whole)
+			equalPairs(t, "the other way round", turned(told(walk.Back(v, g.Tree, rg))), whole)
 		}
 	}
 }
@@ -82,19 +83,19 @@ func TestP14_6Split(t *testing.T) {
 func TestP14_6ThePairsAlone(t *testing.T) {
 	r, heights := draw.Numbers(156), map[string]int{}
 	for range 30 {
-		pairs := somePairs(&r, 1+r.Below(200), 6000)
-		a := grow(&r, pairs, few)
-		v := a.held(t)
-		for _, take := range []share{few, many, some(&r)} {
-			b := grow(&r, pairs, take)
-			w := b.fresh(t)
-			heights[fmt.Sprint(b.tree.Height-a.tree.Height)]++
-			for _, row := range a.rows(&r, 20) {
-				x, is, e := walk.Get(v, a.tree, row)
-				gets(t, w, b.tree, row, x, is, e)
+		pairs := grove.Pairs(&r, 1+r.Below(200), 6000)
+		a := grove.Grow(&r, pairs, grove.Few)
+		v := heldPages(t, a.Pages...)
+		for _, take := range []grove.Share{grove.Few, grove.Many, grove.Some(&r)} {
+			b := grove.Grow(&r, pairs, take)
+			w := freshPages(t, b.Pages...)
+			heights[fmt.Sprint(b.Tree.Height-a.Tree.Height)]++
+			for _, row := range a.Rows(&r, 20) {
+				x, is, e := walk.Get(v, a.Tree, row)
+				gets(t, w, b.Tree, row, x, is, e)
 				rg := api.Range{Lo: row, Hi: pairs[r.Below(len(pairs))].Key}
-				l, _ := walk.List(v, a.tree, rg)
-				lists(t, w, b.tree, rg, l)
+				l, _ := walk.List(v, a.Tree, rg)
+				lists(t, w, b.Tree, rg, l)
 			}
 		}
 	}
@@ -144,14 +145,14 @@ func asksAll(t *testing.T, v *vault.Vault, tree api.Tree, rows [][]byte) {
 func TestR1AnyPages(t *testing.T) {
 	r := draw.Numbers(157)
 	for range 3 {
-		for _, g := range grownTrees(&r, 3) {
+		for _, g := range grove.Trees(&r, 3) {
 			for range 12 {
-				pages, tree := g.pages, g.tree
+				pages, tree := g.Pages, g.Tree
 				for range 1 + r.Below(4) {
 					pages = spoiled(&r, pages, &tree)
 				}
 				v := heldPages(t, pages...)
-				unchanged(t, v, func() { asksAll(t, v, tree, g.rows(&r, 2)) })
+				unchanged(t, v, func() { asksAll(t, v, tree, g.Rows(&r, 2)) })
 			}
 		}
 	}
@@ -202,7 +203,7 @@ func TestR1NoVault(t *testing.T) {
 	for _, tree := range []api.Tree{empty, {Root: 1, Height: 1, Items: 1}, {Root: 1, Height: 2, Items: 8}, {Root: 1}, {Height: 1}, {Items: 1}} {
 		asksAll(t, nil, tree, rows)
 	}
-	(&grown{}).answers(t, nil, []byte("a"))
+	answers(t, nil, &grove.Grown{}, []byte("a"))
 	lists(t, nil, empty, all(), nil)
 	checks(t, nil, empty, 0)
 	checks(t, nil, api.Tree{Root: 1, Height: 1, Items: 1}, errPage)
@@ -213,9 +214,9 @@ func TestR1NoVault(t *testing.T) {
 // on how the pages came there, nor on how often they are led to.
 func TestR5WhatStandsThere(t *testing.T) {
 	r := draw.Numbers(158)
-	for _, g := range grownTrees(&r, 3) {
-		counts, l := make([]int, len(g.pages)), []api.Numbered(nil)
-		for k, p := range g.pages {
+	for _, g := range grove.Trees(&r, 3) {
+		counts, l := make([]int, len(g.Pages)), []api.Numbered(nil)
+		for k, p := range g.Pages {
 			if p.Kind != 0 {
 				counts[k] = 1 + r.Below(3)
 				l = append(l, api.Numbered{No: k + 1, Page: p})
@@ -223,15 +224,15 @@ func TestR5WhatStandsThere(t *testing.T) {
 		}
 		v, e := vault.Load(3, counts, l)
 		equal(t, "Load", e, 0)
-		w := g.fresh(t)
+		w := freshPages(t, g.Pages...)
 		w.Settle()
-		for _, v := range []*vault.Vault{v, w, g.held(t), g.fresh(t)} {
+		for _, v := range []*vault.Vault{v, w, heldPages(t, g.Pages...), freshPages(t, g.Pages...)} {
 			for range 2 {
-				for _, row := range g.rows(&r, 10) {
-					g.answers(t, v, row)
+				for _, row := range g.Rows(&r, 10) {
+					answers(t, v, g, row)
 				}
-				lists(t, v, g.tree, all(), g.pairs)
-				checks(t, v, g.tree, 0)
+				lists(t, v, g.Tree, all(), g.Pairs)
+				checks(t, v, g.Tree, 0)
 			}
 		}
 	}

@@ -9,6 +9,7 @@ import (
 	"testing"
 
 	"coppice/api"
+	"coppice/grove"
 	"coppice/vault"
 	"coppice/view"
 	"coppice/walk"
@@ -255,4 +256,18 @@ func checks(t *testing.T, v *vault.Vault, tree api.Tree, want api.Errno) {
 	if e := walk.Check(v, tree); e != want {
 		t.Fatalf("Check(%v) = %d, want %d", tree, e, want)
 	}
+}
+
+// answers: all calls that take a row tell of it what they must.
+func answers(t *testing.T, v *vault.Vault, g *grove.Grown, row []byte) {
+	t.Helper()
+	if len(row) == 0 || len(row) > maxKey {
+		gets(t, v, g.Tree, row, nil, false, errKey)
+	} else {
+		value, there := g.Get(row)
+		gets(t, v, g.Tree, row, value, there, 0)
+	}
+	ceils(t, v, g.Tree, row, g.Ceil(row)...)
+	floors(t, v, g.Tree, row, g.Floor(row)...)
+	leads(t, v, g.Tree, row, g.Path(row)...)
 }

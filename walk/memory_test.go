@@ -9,6 +9,7 @@ import (
 
 	"coppice/api"
 	"coppice/draw"
+	"coppice/grove"
 	"coppice/vault"
 	"coppice/view"
 	"coppice/walk"
@@ -124,17 +125,17 @@ func calls() map[string]call {
 // none with an argument, with the vault, nor with another answer.
 func TestP14_7HandedInAndOut(t *testing.T) {
 	r := draw.Numbers(159)
-	for _, g := range grownTrees(&r, 3) {
-		v, rows := g.held(t), g.rows(&r, 8)
+	for _, g := range grove.Trees(&r, 3) {
+		v, rows := heldPages(t, g.Pages...), g.Rows(&r, 8)
 		seen := view.Vault(v)
 		for k := range 40 {
 			a, b := rows[r.Below(len(rows))], rows[r.Below(len(rows))]
-			if k < 10 && len(g.pairs) > 0 { // a key that is there
-				a = g.pairs[r.Below(len(g.pairs))].Key
+			if k < 10 && len(g.Pairs) > 0 { // a key that is there
+				a = g.Pairs[r.Below(len(g.Pairs))].Key
 			}
 			for what, call := range calls() {
 				x, y := room(a), room(b)
-				one, other := call(v, g.tree, x, y), call(v, g.tree, x, y)
+				one, other := call(v, g.Tree, x, y), call(v, g.Tree, x, y)
 				equal(t, what+": what was handed in", untouched(x, a) && untouched(y, b), true)
 				want := other.text()
 				equal(t, what+": the same answer", one.text(), want)
@@ -144,7 +145,7 @@ func TestP14_7HandedInAndOut(t *testing.T) {
 				turn(x)
 				turn(y)
 				equal(t, what+": the answer, its arguments spoiled", other.text(), want)
-				equal(t, what+": asked again", call(v, g.tree, room(a), room(b)).text(), want)
+				equal(t, what+": asked again", call(v, g.Tree, room(a), room(b)).text(), want)
 			}
 		}
 		equal(t, "the vault", view.Vault(v), seen)
@@ -154,11 +155,11 @@ func TestP14_7HandedInAndOut(t *testing.T) {
 // No two rows of one answer share memory.
 func TestP14_7RowsOfOneAnswer(t *testing.T) {
 	r := draw.Numbers(160)
-	for _, g := range grownTrees(&r, 2) {
-		v := g.held(t)
+	for _, g := range grove.Trees(&r, 2) {
+		v := heldPages(t, g.Pages...)
 		for what, call := range calls() {
 			for _, row := range [][]byte{nil, []byte("a"), []byte("m")} {
-				l := call(v, g.tree, row, []byte{0xff}).all()
+				l := call(v, g.Tree, row, []byte{0xff}).all()
 				want := make([][]byte, len(l))
 				for k, b := range l {
 					want[k] = bytes.Clone(b)
@@ -181,13 +182,13 @@ func TestP14_7RowsOfOneAnswer(t *testing.T) {
 // behind it is seen to change, nor the next time, nor another one's walk.
 func TestP14_7Walks(t *testing.T) {
 	r := draw.Numbers(161)
-	for _, g := range grownTrees(&r, 3) {
-		v := g.held(t)
+	for _, g := range grove.Trees(&r, 3) {
+		v := heldPages(t, g.Pages...)
 		seen := view.Vault(v)
 		lo, hi := room(nil), room([]byte{0xff})
 		rg := api.Range{Lo: lo, Hi: hi}
-		want := g.list(rg)
-		walks := []asked{{"Scan", walk.Scan(v, g.tree, rg), want}, {"Back", walk.Back(v, g.tree, rg), turned(want)}}
+		want := g.List(rg)
+		walks := []asked{{"Scan", walk.Scan(v, g.Tree, rg), want}, {"Back", walk.Back(v, g.Tree, rg), turned(want)}}
 		turn(lo) // a walk keeps nothing of its range
 		turn(hi)
 		for _, a := range walks {

@@ -8,6 +8,7 @@ import (
 
 	"coppice/api"
 	"coppice/draw"
+	"coppice/grove"
 	"coppice/vault"
 	"coppice/view"
 	"coppice/walk"
@@ -42,10 +43,10 @@ func TestP14_2Ranges(t *testing.T) {
 // Ranges between any rows, of trees of all kinds.
 func TestP14_2AnyRange(t *testing.T) {
 	r, met := draw.Numbers(147), map[string]int{}
-	for _, g := range grownTrees(&r, 4) {
-		v, rows := g.held(t), g.rows(&r, 100)
+	for _, g := range grove.Trees(&r, 4) {
+		v, rows := heldPages(t, g.Pages...), g.Rows(&r, 100)
 		if r.Below(2) == 0 {
-			v = g.fresh(t)
+			v = freshPages(t, g.Pages...)
 		}
 		before, mark := view.Vault(v), v.Mark()
 		for range 150 {
@@ -53,12 +54,12 @@ func TestP14_2AnyRange(t *testing.T) {
 			if bytes.Compare(rg.Lo, rg.Hi) > 0 && r.Below(4) > 0 {
 				rg.Lo, rg.Hi = rg.Hi, rg.Lo
 			}
-			want := g.list(rg)
-			lists(t, v, g.tree, rg, want)
+			want := g.List(rg)
+			lists(t, v, g.Tree, rg, want)
 			switch n := len(want); {
 			case n == 0:
 				met["none"]++
-			case n == len(g.pairs):
+			case n == len(g.Pairs):
 				met["all"]++
 			default:
 				met["some"]++
@@ -92,9 +93,9 @@ func both(v *vault.Vault, tree api.Tree, pairs []api.Pair) []asked {
 // Walks are stopped anywhere, and gone over again from their beginning.
 func TestP14_2Stopped(t *testing.T) {
 	r := draw.Numbers(148)
-	for _, g := range grownTrees(&r, 3) {
-		v := g.held(t)
-		for _, a := range both(v, g.tree, g.pairs) {
+	for _, g := range grove.Trees(&r, 3) {
+		v := heldPages(t, g.Pages...)
+		for _, a := range both(v, g.Tree, g.Pairs) {
 			for stop := 1; stop <= len(a.want); stop++ {
 				var l []api.Pair
 				for k, x := range a.walk {
@@ -116,8 +117,8 @@ func TestP14_2Stopped(t *testing.T) {
 // goroutines.
 func TestP14_2SeveralAtATime(t *testing.T) {
 	r := draw.Numbers(149)
-	g := grow(&r, somePairs(&r, 40, 3000), some(&r))
-	for _, a := range both(g.held(t), g.tree, g.pairs) {
+	g := grove.Grow(&r, grove.Pairs(&r, 40, 3000), grove.Some(&r))
+	for _, a := range both(heldPages(t, g.Pages...), g.Tree, g.Pairs) {
 		at := 0
 		for k := range a.walk {
 			equal(t, "the outer walk", string(k), string(a.want[at].Key))
@@ -158,7 +159,7 @@ func inTurns(t *testing.T, a asked) {
 }
 
 // changes is what can be done to a vault since a walk was asked for.
-func changes(g *grown) map[string]func(t *testing.T, v *vault.Vault) {
+func changes(g *grove.Grown) map[string]func(t *testing.T, v *vault.Vault) {
 	write := func(t *testing.T, v *vault.Vault) {
 		for n := 1; n <= v.Len(); n++ {
 			if v.State(n) == fresh {
@@ -167,8 +168,8 @@ func changes(g *grown) map[string]func(t *testing.T, v *vault.Vault) {
 		}
 	}
 	drop := func(t *testing.T, v *vault.Vault) {
-		if g.tree.Root != 0 {
-			equal(t, "Drop", v.Drop(g.tree.Root), 0)
+		if g.Tree.Root != 0 {
+			equal(t, "Drop", v.Drop(g.Tree.Root), 0)
 		}
 	}
 	settle := func(_ *testing.T, v *vault.Vault) { v.Settle() }
@@ -199,10 +200,10 @@ func changes(g *grown) map[string]func(t *testing.T, v *vault.Vault) {
 // the vault since, also while it is gone over.
 func TestP14_2WhatThereWas(t *testing.T) {
 	r := draw.Numbers(150)
-	for _, g := range grownTrees(&r, 3) {
+	for _, g := range grove.Trees(&r, 3) {
 		for what, change := range changes(g) {
-			v := g.fresh(t)
-			walks := both(v, g.tree, g.pairs)
+			v := freshPages(t, g.Pages...)
+			walks := both(v, g.Tree, g.Pairs)
 			mark, during := v.Mark(), 0
 			for _, a := range walks {
 				var l []api.Pair
@@ -214,7 +215,7 @@ func TestP14_2WhatThereWas(t *testing.T) {
 				}
 				equalPairs(t, a.what+" while it is "+what, l, a.want)
 			}
-			if len(g.pairs) == 0 {
+			if len(g.Pairs) == 0 {
 				change(t, v)
 			}
 			seen := view.Vault(v)
@@ -225,7 +226,7 @@ func TestP14_2WhatThereWas(t *testing.T) {
 			equal(t, "a walk changes nothing", view.Vault(v), seen)
 			if what == "written" || what == "dropped" {
 				equal(t, "Undo", v.Undo(mark), true)
-				lists(t, v, g.tree, all(), g.pairs)
+				lists(t, v, g.Tree, all(), g.Pairs)
 			}
 		}
 	}
@@ -248,9 +249,9 @@ func TestP14_2WhatThereIsNow(t *testing.T) {
 // A walk is never nil, whatever is asked for.
 func TestP14_2NeverNil(t *testing.T) {
 	r := draw.Numbers(151)
-	for _, g := range grownTrees(&r, 2) {
-		v := g.held(t)
-		for _, tree := range []api.Tree{g.tree, empty, {Root: 1}, {Height: 1}, {Items: 1}, {Root: 1, Height: 1, Items: 1}, {Root: -1, Height: -1, Items: -1}, {Root: 99, Height: 2, Items: 9}} {
+	for _, g := range grove.Trees(&r, 2) {
+		v := heldPages(t, g.Pages...)
+		for _, tree := range []api.Tree{g.Tree, empty, {Root: 1}, {Height: 1}, {Items: 1}, {Root: 1, Height: 1, Items: 1}, {Root: -1, Height: -1, Items: -1}, {Root: 99, Height: 2, Items: 9}} {
 			for _, rg := range []api.Range{all(), {}, from("z"), to("z", "a"), to("a", "z"), to("a", "a")} {
 				for what, w := range map[string]iter.Seq2[[]byte, []byte]{"Scan": walk.Scan(v, tree, rg), "Back": walk.Back(v, tree, rg)} {
 					if w == nil {

@@ -7,6 +7,7 @@ import (
 
 	"coppice/api"
 	"coppice/draw"
+	"coppice/grove"
 	"coppice/vault"
 	"coppice/walk"
 )
@@ -51,21 +52,21 @@ func TestExamples(t *testing.T) {
 // What is no key is asked of each tree: it has 1 to MaxKey bytes.
 func TestP14_1NoKey(t *testing.T) {
 	r := draw.Numbers(141)
-	for _, g := range grownTrees(&r, 3) {
-		v := g.held(t)
+	for _, g := range grove.Trees(&r, 3) {
+		v := heldPages(t, g.Pages...)
 		unchanged(t, v, func() {
 			for _, key := range [][]byte{nil, {}, make([]byte, maxKey+1), make([]byte, maxKey+2), make([]byte, 256), make([]byte, 256+maxKey), make([]byte, 1<<16+3)} {
-				gets(t, v, g.tree, key, nil, false, errKey)
+				gets(t, v, g.Tree, key, nil, false, errKey)
 			}
 			for n := 1; n <= maxKey; n++ {
 				for _, x := range []byte{0, 'a', 0xff} {
 					key := bytes.Repeat([]byte{x}, n)
-					value, there := g.get(key)
-					gets(t, v, g.tree, key, value, there, 0)
+					value, there := g.Get(key)
+					gets(t, v, g.Tree, key, value, there, 0)
 				}
 			}
-			for _, x := range g.pairs { // a key that is there, with more bytes behind it
-				gets(t, v, g.tree, append(bytes.Clone(x.Key), make([]byte, maxKey)...), nil, false, errKey)
+			for _, x := range g.Pairs { // a key that is there, with more bytes behind it
+				gets(t, v, g.Tree, append(bytes.Clone(x.Key), make([]byte, maxKey)...), nil, false, errKey)
 			}
 		})
 	}
@@ -82,15 +83,15 @@ func TestP14_1Values(t *testing.T) {
 	for k, size := range sizes {
 		pairs = append(pairs, api.Pair{Key: []byte{byte(2*k + 1)}, Value: r.Bytes(size)})
 	}
-	for _, take := range []share{few, many, some(&r)} {
-		g := grow(&r, pairs, take)
-		for _, v := range []*vault.Vault{g.held(t), g.fresh(t)} {
+	for _, take := range []grove.Share{grove.Few, grove.Many, grove.Some(&r)} {
+		g := grove.Grow(&r, pairs, take)
+		for _, v := range []*vault.Vault{heldPages(t, g.Pages...), freshPages(t, g.Pages...)} {
 			unchanged(t, v, func() {
 				for k := range 256 {
-					g.answers(t, v, []byte{byte(k)})
+					answers(t, v, g, []byte{byte(k)})
 				}
-				lists(t, v, g.tree, all(), pairs)
-				checks(t, v, g.tree, 0)
+				lists(t, v, g.Tree, all(), pairs)
+				checks(t, v, g.Tree, 0)
 			})
 		}
 	}
@@ -99,21 +100,21 @@ func TestP14_1Values(t *testing.T) {
 // Keys that are there and keys that are not, at each height that a tree can have.
 func TestEveryHeight(t *testing.T) {
 	r := draw.Numbers(143)
-	for h := 1; h <= highest; h++ {
-		g := grow(&r, somePairs(&r, fewest(h), 50000), few)
-		equal(t, "Height", g.tree.Height, h)
-		v := g.held(t)
+	for h := 1; h <= grove.Highest; h++ {
+		g := grove.Grow(&r, grove.Pairs(&r, grove.Fewest(h), 50000), grove.Few)
+		equal(t, "Height", g.Tree.Height, h)
+		v := heldPages(t, g.Pages...)
 		mark, counts := v.Mark(), fmt.Sprint(v.Counts())
-		rows := g.rows(&r, 60)
+		rows := g.Rows(&r, 60)
 		for _, row := range rows {
-			g.answers(t, v, row)
+			answers(t, v, g, row)
 		}
 		for range 4 {
 			rg := api.Range{Lo: rows[r.Below(len(rows))], Hi: rows[r.Below(len(rows))], Open: r.Below(3) == 0}
-			lists(t, v, g.tree, rg, g.list(rg))
+			lists(t, v, g.Tree, rg, g.List(rg))
 		}
-		lists(t, v, g.tree, all(), g.pairs)
-		checks(t, v, g.tree, 0)
+		lists(t, v, g.Tree, all(), g.Pairs)
+		checks(t, v, g.Tree, 0)
 		equal(t, "Mark", v.Mark(), mark)
 		equal(t, "Counts", fmt.Sprint(v.Counts()), counts)
 	}
@@ -122,10 +123,10 @@ func TestEveryHeight(t *testing.T) {
 // All rows at and beside all keys and separators, of trees of all kinds.
 func TestP14_1P14_3P14_4Rows(t *testing.T) {
 	r := draw.Numbers(144)
-	for _, g := range grownTrees(&r, 4) {
-		for _, v := range []*vault.Vault{g.held(t), g.fresh(t)} {
-			for _, row := range g.rows(&r, 150) {
-				g.answers(t, v, row)
+	for _, g := range grove.Trees(&r, 4) {
+		for _, v := range []*vault.Vault{heldPages(t, g.Pages...), freshPages(t, g.Pages...)} {
+			for _, row := range g.Rows(&r, 150) {
+				answers(t, v, g, row)
 			}
 		}
 	}
@@ -134,11 +135,11 @@ func TestP14_1P14_3P14_4Rows(t *testing.T) {
 // The empty tree has nothing, in any vault.
 func TestTheEmptyTree(t *testing.T) {
 	r := draw.Numbers(145)
-	for _, g := range grownTrees(&r, 2) {
-		v := g.held(t)
+	for _, g := range grove.Trees(&r, 2) {
+		v := heldPages(t, g.Pages...)
 		unchanged(t, v, func() {
-			for _, row := range g.rows(&r, 20) {
-				(&grown{}).answers(t, v, row)
+			for _, row := range g.Rows(&r, 20) {
+				answers(t, v, &grove.Grown{}, row)
 				lists(t, v, empty, api.Range{Lo: row, Open: true}, nil)
 				lists(t, v, empty, api.Range{Hi: row}, nil)
 			}
@@ -150,38 +151,41 @@ func TestTheEmptyTree(t *testing.T) {
 // A row of any length has its neighbours and its way.
 func TestP14_3P14_4LongRows(t *testing.T) {
 	r := draw.Numbers(146)
-	g := grow(&r, somePairs(&r, 200, 5000), some(&r))
-	v := g.held(t)
+	g := grove.Grow(&r, grove.Pairs(&r, 200, 5000), grove.Some(&r))
+	v := heldPages(t, g.Pages...)
 	for _, n := range []int{23, 24, 25, 26, 48, 255, 256, 257, 65535, 65536, 1 << 20} {
 		for _, x := range []byte{0, 'a', 'm', 0xff} {
-			g.answers(t, v, bytes.Repeat([]byte{x}, n))
-			key := g.pairs[r.Below(len(g.pairs))].Key
-			g.answers(t, v, append(bytes.Clone(key), bytes.Repeat([]byte{x}, n)...))
+			answers(t, v, g, bytes.Repeat([]byte{x}, n))
+			key := g.Pairs[r.Below(len(g.Pairs))].Key
+			answers(t, v, g, append(bytes.Clone(key), bytes.Repeat([]byte{x}, n)...))
 		}
 	}
 }
+
+// spot is a spot of a level; its keys lie from lo on.
+func spot(no int, lo string) grove.Spot { return grove.Spot{No: no, Lo: []byte(lo)} }
 
 // A separator may stand where no key stands: between it and the keys beside it what is
 // nearest may lie on either side.
 func TestP14_3BesideSeparators(t *testing.T) {
 	v := heldPages(t, leaf("2345"), leaf("6789"), leaf("bcde"), leaf("nopq"), leaf("uvwx"), leaf("ABCD"), leaf("FGHI"), leaf("QRST"),
 		index(1, "6AE", 1, 2, 6, 7), index(1, "ajs", 8, 3, 4, 5), index(2, "M", 9, 10))
-	g := &grown{tree: api.Tree{Root: 11, Height: 3, Items: 32}, levels: [][]spot{
-		{{1, nil}, {2, []byte("6")}, {6, []byte("A")}, {7, []byte("E")}, {8, []byte("M")}, {3, []byte("a")}, {4, []byte("j")}, {5, []byte("s")}},
-		{{9, nil}, {10, []byte("M")}},
-		{{11, nil}},
+	g := &grove.Grown{Tree: api.Tree{Root: 11, Height: 3, Items: 32}, Levels: [][]grove.Spot{
+		{spot(1, ""), spot(2, "6"), spot(6, "A"), spot(7, "E"), spot(8, "M"), spot(3, "a"), spot(4, "j"), spot(5, "s")},
+		{spot(9, ""), spot(10, "M")},
+		{spot(11, "")},
 	}}
 	for _, k := range []byte("23456789ABCDFGHIQRSTbcdenopquvwx") {
-		g.pairs = append(g.pairs, api.Pair{Key: []byte{k}, Value: []byte{k, k}})
+		g.Pairs = append(g.Pairs, api.Pair{Key: []byte{k}, Value: []byte{k, k}})
 	}
-	checks(t, v, g.tree, 0)
+	checks(t, v, g.Tree, 0)
 	for x := range 256 {
-		for _, row := range around([]byte{byte(x)}) {
-			g.answers(t, v, row)
+		for _, row := range grove.Around([]byte{byte(x)}) {
+			answers(t, v, g, row)
 		}
 	}
-	floors(t, v, g.tree, []byte("P"), api.Pair{Key: []byte("I"), Value: []byte("II")})
-	ceils(t, v, g.tree, []byte("J"), api.Pair{Key: []byte("Q"), Value: []byte("QQ")})
-	leads(t, v, g.tree, []byte("L"), 11, 9, 7)
-	leads(t, v, g.tree, []byte("M"), 11, 10, 8)
+	floors(t, v, g.Tree, []byte("P"), api.Pair{Key: []byte("I"), Value: []byte("II")})
+	ceils(t, v, g.Tree, []byte("J"), api.Pair{Key: []byte("Q"), Value: []byte("QQ")})
+	leads(t, v, g.Tree, []byte("L"), 11, 9, 7)
+	leads(t, v, g.Tree, []byte("M"), 11, 10, 8)
 }

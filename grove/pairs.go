@@ -1,0 +1,90 @@
+package grove
+
+import (
+	"bytes"
+	"slices"
+
+	"coppice/api"
+	"coppice/draw"
+)
+
+// Pairs is n pairs of keys that often begin alike; values are long here and there,
+// so that all of them together take no more than so many bytes.
+func Pairs(r *draw.Numbers, n, bytesMost int) []api.Pair {
+	known := map[string]int{}
+	var l []api.Pair
+	for len(l) < n {
+		k := Key(r)
+		if known[string(k)]++; known[string(k)] > 1 {
+			continue
+		}
+		x := api.Pair{Key: k, Value: r.Bytes(r.Below(4))}
+		if r.Below(3) == 0 {
+			sizes := Sizes()
+			if size := sizes[r.Below(len(sizes))]; size <= bytesMost {
+				x.Value = r.Bytes(size)
+				bytesMost -= size
+			}
+		}
+		l = append(l, x)
+	}
+	slices.SortFunc(l, func(a, b api.Pair) int { return bytes.Compare(a.Key, b.Key) })
+	return l
+}
+
+// Sizes is lengths of values on both sides of the bounds that matter.
+func Sizes() []int {
+	return []int{0, 1, api.Inline - 1, api.Inline, api.Inline + 1, api.Chunk - 1, api.Chunk, api.Chunk + 1,
+		2*api.Chunk - 1, 2 * api.Chunk, 2*api.Chunk + 1, api.MaxValue - 1, api.MaxValue}
+}
+
+// Key is a key of few bytes that come often; some are as long as a key may be.
+func Key(r *draw.Numbers) []byte {
+	b := make([]byte, []int{1, 2, 3, 4, 5, 6, 7, api.MaxKey - 1, api.MaxKey, api.MaxKey}[r.Below(10)])
+	for k := range b {
+		b[k] = []byte{0, 1, 'a', 'b', 'c', 'm', 0xfe, 0xff}[r.Below(8)]
+		if k < len(b)-6 {
+			b[k] = 'a'
+		}
+	}
+	return b
+}
+
+// Around is rows at and beside a row.
+func Around(row []byte) [][]byte {
+	l := [][]byte{row, append(bytes.Clone(row), 0), append(bytes.Clone(row), 0xff), append(bytes.Clone(row), make([]byte, api.MaxKey)...)}
+	if n := len(row); n > 0 {
+		more, less := bytes.Clone(row), bytes.Clone(row)
+		more[n-1]++
+		less[n-1]--
+		l = append(l, row[:n-1], row[:n/2], more, less, append(less, 0xff))
+	}
+	return l
+}
+
+// Rows is rows at and beside each key and each separator of a tree, or of some of them,
+// and rows that are no keys.
+func (g *Grown) Rows(r *draw.Numbers, most int) [][]byte {
+	l := [][]byte{nil, {}, {0}, {0xff}, make([]byte, api.MaxKey), make([]byte, api.MaxKey+1), make([]byte, 1000)}
+	for _, n := range []int{api.MaxKey - 1, api.MaxKey, api.MaxKey + 1, 5000} {
+		l = append(l, bytes.Repeat([]byte{0xff}, n), bytes.Repeat([]byte{'a'}, n))
+	}
+	var seeds [][]byte
+	for _, x := range g.Pairs {
+		seeds = append(seeds, x.Key)
+	}
+	for _, level := range g.Levels {
+		for _, s := range level {
+			seeds = append(seeds, s.Lo)
+		}
+	}
+	for len(seeds) > most {
+		at := r.Below(len(seeds))
+		seeds[at] = seeds[len(seeds)-1]
+		seeds = seeds[:len(seeds)-1]
+	}
+	for _, s := range seeds {
+		l = append(l, Around(s)...)
+	}
+	return l
+}
