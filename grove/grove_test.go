@@ -6,6 +6,8 @@ import (
 	"coppice/api"
 	"coppice/draw"
 	"coppice/grove"
+	"coppice/node"
+	"coppice/span"
 	"coppice/vault"
 	"coppice/view"
 	"coppice/walk"
@@ -79,6 +81,70 @@ func TestFullPages(t *testing.T) {
 	}
 }
 
+// Trees whose pages have as many items as was asked for.
+func TestSized(t *testing.T) {
+	r := draw.Numbers(5)
+	for _, levels := range [][][]int{
+		{{3}}, {{8}}, {{4, 4}, {2}}, {{4, 8}, {2}}, {{8, 4, 4}, {3}}, {{5, 4, 6, 8, 4, 7}, {6}},
+		{{4, 5, 4, 4, 4, 4, 4, 8, 6}, {5, 4}, {2}}, {{4, 4, 4, 4, 7, 4, 4, 4}, {4, 4}, {2}},
+	} {
+		keys := 0
+		for _, n := range levels[0] {
+			keys += n
+		}
+		g := grove.Grow(&r, grove.Pairs(&r, keys, 0), grove.Sized(levels...))
+		equal(t, "Check", walk.Check(vaultOf(t, grove.StoreOf(9, g.Pages, 0)), g.Tree), 0)
+		equal(t, "Height", g.Tree.Height, len(levels))
+		for k, level := range g.Levels {
+			for at, s := range level {
+				equal(t, "items", len(g.Pages[s.No-1].Items), levels[k][at])
+			}
+		}
+	}
+}
+
+// Trees in settings of all kinds stand there together, and just so many pages are left
+// free as are asked for.
+func TestSettings(t *testing.T) {
+	r := draw.Numbers(6)
+	isThere := map[bool]int{}
+	for round := range 200 {
+		g := grove.Any(&r, 1+round%3)
+		s, trees := grove.Settings(&r).Lay(&r, g)
+		v := vaultOf(t, s)
+		for n, c := range grove.Led(v, trees...) {
+			equal(t, "the count", v.Count(n) >= c && v.Count(n) <= v.Refs(), true)
+		}
+		for left := s.Tally(api.Free); left >= 0; left-- {
+			s.Leave(&r, left)
+			equal(t, "Free", vaultOf(t, s).Tally(api.Free), left)
+		}
+		for _, x := range trees {
+			equal(t, "Check", walk.Check(vaultOf(t, s), x), 0)
+		}
+		key := g.SomeKey(&r)
+		_, is, e := walk.Get(v, g.Tree, key)
+		equal(t, "Get", e, 0)
+		isThere[is]++
+		for _, p := range g.Pages {
+			if p.Kind == api.Index {
+				equal(t, "Lies", grove.Lies(p, key), node.Route(p, key))
+			}
+		}
+	}
+	equal(t, "keys that are there, and others", isThere[true] > 20 && isThere[false] > 20, true)
+}
+
+// The shortest key between two is what span finds.
+func TestShortest(t *testing.T) {
+	r := draw.Numbers(7)
+	for range 20000 {
+		a, b := grove.Key(&r), grove.Key(&r)
+		want, _ := span.Between(a, b)
+		equal(t, "Shortest", string(grove.Shortest(a, b)), string(want))
+	}
+}
+
 // A vault has what its store has, and a store what its vault has; each difference is
 // told.
 func TestStoreAndVault(t *testing.T) {
@@ -139,7 +205,7 @@ func TestSteps(t *testing.T) {
 		for range 30 {
 			v, n := vaultOf(t, s), 1+r.Below(len(s.Counts))
 			next := s.Copy()
-			switch what := r.Below(4); {
+			switch what := r.Below(5); {
 			case what == 0:
 				p := api.Page{Kind: api.Blob, Data: []byte("x")}
 				a, e := next.Make(p)
@@ -161,7 +227,14 @@ func TestSteps(t *testing.T) {
 					next.Drop(n)
 					met["Drop"]++
 				}
-			case what == 3 && r.Below(5) == 0:
+			case what == 3 && s.Counts[n-1] > 0:
+				_, e := v.Take(n)
+				equal(t, "Take", next.Take(n), e)
+				if e != 0 {
+					next = s.Copy()
+				}
+				met["Take"] += int(e) + 1
+			case what == 4 && r.Below(5) == 0:
 				next.Settle()
 				v.Settle()
 				met["Settle"]++
@@ -170,7 +243,7 @@ func TestSteps(t *testing.T) {
 			s = next
 		}
 	}
-	for _, what := range []string{"Make", "Shadow", "Drop", "Settle"} {
+	for _, what := range []string{"Make", "Shadow", "Drop", "Take", "Settle"} {
 		equal(t, what, met[what] > 100, true)
 	}
 }

@@ -56,6 +56,32 @@ func Right(left, _ int) int {
 	return api.Least
 }
 
+// Sized makes trees whose pages have so many items each, from the left on: first the
+// leaves, then the indexes above them, and so on; the root may be left out.
+func Sized(levels ...[]int) Share {
+	return func(left, of int) int {
+		for _, sizes := range levels {
+			if sum(sizes) != of {
+				continue
+			}
+			for k, size := range sizes {
+				if sum(sizes[k:]) == left {
+					return size
+				}
+			}
+		}
+		return api.Most
+	}
+}
+
+func sum(l []int) int {
+	n := 0
+	for _, x := range l {
+		n += x
+	}
+	return n
+}
+
 // Edge is how many keys a tree of a height has, of whose pages one of each level is full,
 // the root too, and all others have as few items as can be.
 func Edge(height int) int {
@@ -232,4 +258,27 @@ func Trees(r *draw.Numbers, height int) []*Grown {
 		}
 	}
 	return l
+}
+
+// Any is a tree of a height, of any kind: with as few items as can be, and full along
+// one edge or all over, too.
+func Any(r *draw.Numbers, height int) *Grown {
+	few := Fewest(height)
+	full := 1
+	for range height {
+		full *= api.Most
+	}
+	switch r.Below(6) {
+	case 0:
+		return Grow(r, Pairs(r, few, 5000), Few)
+	case 1:
+		return Grow(r, Pairs(r, Edge(height), 5000), Left)
+	case 2:
+		return Grow(r, Pairs(r, Edge(height), 5000), Right)
+	case 3:
+		if full < 1000 {
+			return Grow(r, Pairs(r, full, 5000), Many)
+		}
+	}
+	return Grow(r, Pairs(r, few+r.Below(few), 5000), Some(r))
 }

@@ -88,3 +88,51 @@ func (g *Grown) Rows(r *draw.Numbers, most int) [][]byte {
 	}
 	return l
 }
+
+// SomeKey is a key of a tree, or one that lies at or beside its keys and separators.
+func (g *Grown) SomeKey(r *draw.Numbers) []byte {
+	if n := len(g.Pairs); n > 0 && r.Below(2) == 0 {
+		near := r.Below(min(n, 24)) // the edges are full here and there
+		return g.Pairs[[]int{0, n - 1, near, n - 1 - near, r.Below(n)}[r.Below(5)]].Key
+	}
+	rows := g.Rows(r, 12)
+	for {
+		if row := rows[r.Below(len(rows))]; len(row) > 0 && len(row) <= api.MaxKey {
+			return row
+		}
+	}
+}
+
+// Shortest is the shortest key above a and not above b, of those of one length the
+// least; none, if there is no such key.
+func Shortest(a, b []byte) []byte {
+	for n := 1; n <= api.MaxKey; n++ {
+		k := append(bytes.Clone(a), make([]byte, api.MaxKey)...)[:n]
+		if n <= len(a) { // the least row of n bytes above a is what comes next behind its beginning
+			at := n - 1
+			for at > 0 && k[at] == 0xff {
+				at--
+			}
+			if k[at] == 0xff {
+				continue
+			}
+			k[at]++
+			clear(k[at+1:])
+		}
+		if bytes.Compare(k, b) <= 0 {
+			return k
+		}
+	}
+	return nil
+}
+
+// Lies is the number of the item of an index in whose range a key lies.
+func Lies(p api.Page, key []byte) int {
+	at := 0
+	for k, i := range p.Items {
+		if k > 0 && bytes.Compare(i.Key, key) <= 0 {
+			at = k
+		}
+	}
+	return at
+}

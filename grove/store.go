@@ -143,16 +143,24 @@ func (s *Store) Shadow(n int) (int, api.Errno) {
 	if e != api.OK {
 		return 0, e
 	}
+	if e := s.Take(n); e != api.OK {
+		return 0, e
+	}
+	return shadow, api.OK
+}
+
+// Take takes a page. With an error it is as of Shadow.
+func (s *Store) Take(n int) api.Errno {
 	s.Counts[n-1]--
 	if s.Counts[n-1] == 0 {
-		return shadow, api.OK
+		return api.OK
 	}
 	for _, kid := range LeadsTo(s.On[n-1]) {
 		if s.Counts[kid-1]++; s.Counts[kid-1] > s.Refs {
-			return 0, api.ErrRefs
+			return api.ErrRefs
 		}
 	}
-	return shadow, api.OK
+	return api.OK
 }
 
 // Drop drops a page.

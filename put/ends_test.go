@@ -7,7 +7,6 @@ import (
 	"coppice/api"
 	"coppice/draw"
 	"coppice/grove"
-	"coppice/page"
 	"coppice/put"
 	"coppice/view"
 )
@@ -18,16 +17,16 @@ import (
 func TestR1AnyTree(t *testing.T) {
 	r := draw.Numbers(191)
 	odd := []int{lowest, -1 << 32, -12, -1, 0, 1, 2, 3, 4, 5, 9, 11, 12, 13, 255, 256, 1 << 16, 1<<32 + 1, greatest}
-	for _, g := range []*grove.Grown{someTree(&r, 1), someTree(&r, 2), someTree(&r, 3)} {
-		c := setting{refs: 3, more: 20, lasting: 2}
-		s, _ := c.lay(&r, g)
+	for _, g := range []*grove.Grown{grove.Any(&r, 1), grove.Any(&r, 2), grove.Any(&r, 3)} {
+		c := grove.Setting{Refs: 3, More: 20, Lasting: 2}
+		s, _ := c.Lay(&r, g)
 		v := vaultOf(t, s)
 		mark := v.Mark()
 		for _, root := range append(odd, g.Tree.Root) {
 			for _, height := range append(odd, g.Tree.Height) {
 				for _, items := range []int{lowest, -1, 0, 1, 9, greatest} {
 					for _, size := range []int{0, 500} {
-						put.Put(v, api.Tree{Root: root, Height: height, Items: items}, someKeyOf(&r, g), value(size))
+						put.Put(v, api.Tree{Root: root, Height: height, Items: items}, g.SomeKey(&r), value(size))
 						v.Undo(mark)
 					}
 				}
@@ -50,37 +49,6 @@ func TestR1NoVault(t *testing.T) {
 	}
 }
 
-// anyPage is a page that page.Check takes; it leads anywhere.
-func anyPage(r *draw.Numbers, pages int) api.Page {
-	for {
-		p := api.Page{Kind: leafKind + r.Below(3)}
-		switch n := 1 + r.Below(most); {
-		case p.Kind == blobKind:
-			p.Data, p.Next = value(1+r.Below(chunk)), r.Below(pages+2)
-		case r.Below(3) == 0:
-			n = most
-			fallthrough
-		default:
-			for k := range n {
-				i := api.Item{Key: []byte{byte(16*k + r.Below(16))}}
-				if p.Kind == indexKind {
-					p.Level = 1 + r.Below(3)
-					i.Child = 1 + r.Below(pages+1)
-					if k == 0 {
-						i.Key = nil
-					}
-				} else if r.Below(3) == 0 {
-					i.Size, i.Child = inline+1+r.Below(1000), 1+r.Below(pages+1)
-				}
-				p.Items = append(p.Items, i)
-			}
-		}
-		if page.Check(p) == 0 {
-			return p
-		}
-	}
-}
-
 // Pages that lead anywhere, in rings too, with counts of any kind.
 func TestR1AnyPages(t *testing.T) {
 	t.Parallel()
@@ -90,11 +58,11 @@ func TestR1AnyPages(t *testing.T) {
 		pages := make([]api.Page, n)
 		for k := range pages {
 			if r.Below(6) > 0 {
-				pages[k] = anyPage(&r, n)
+				pages[k] = grove.AnyPage(&r, n)
 			}
 		}
-		c := settings(&r)
-		s, _ := c.lay(&r, &grove.Grown{Pages: pages})
+		c := grove.Settings(&r)
+		s, _ := c.Lay(&r, &grove.Grown{Pages: pages})
 		v := vaultOf(t, s)
 		mark, seen := v.Mark(), view.Vault(v)
 		for root := 1; root <= n; root++ {
@@ -116,22 +84,22 @@ func TestR1OnePageIsAnother(t *testing.T) {
 	t.Parallel()
 	r := draw.Numbers(193)
 	for round := range 60 {
-		g := someTree(&r, 1+round%3)
-		c := settings(&r)
-		s, _ := c.lay(&r, g)
+		g := grove.Any(&r, 1+round%3)
+		c := grove.Settings(&r)
+		s, _ := c.Lay(&r, g)
 		for k := range g.Pages {
 			if k%(1+len(g.Pages)/20) > 0 {
 				continue
 			}
 			other := s.Copy()
-			other.On[k] = anyPage(&r, len(g.Pages))
+			other.On[k] = grove.AnyPage(&r, len(g.Pages))
 			if r.Below(4) == 0 {
 				other.Counts[k] = 0
 			}
 			v := vaultOf(t, other)
 			mark := v.Mark()
 			for range 4 {
-				put.Put(v, g.Tree, someKeyOf(&r, g), someValue(&r, 2))
+				put.Put(v, g.Tree, g.SomeKey(&r), someValue(&r, 2))
 				v.Undo(mark)
 			}
 		}

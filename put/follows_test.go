@@ -142,9 +142,9 @@ func TestP15_4Scripts(t *testing.T) {
 	for round := range 48 {
 		g := grove.Grow(&r, nil, grove.Few)
 		if round%4 > 0 {
-			g = someTree(&r, round%4)
+			g = grove.Any(&r, round%4)
 		}
-		store, trees := setting{refs: 2 + r.Below(3), more: 10 + r.Below(60), lasting: r.Below(5)}.lay(&r, g)
+		store, trees := grove.Setting{Refs: 2 + r.Below(3), More: 10 + r.Below(60), Lasting: r.Below(5)}.Lay(&r, g)
 		s := &script{vaultOf(t, store), trees, met}
 		for range 40 {
 			at := r.Below(len(s.trees))
@@ -176,14 +176,14 @@ func TestP15_4EachInTurn(t *testing.T) {
 	r := draw.Numbers(163)
 	for _, height := range []int{1, 2, 3} {
 		for range 6 {
-			g := someTree(&r, height)
-			c := setting{refs: 4, more: 300, clones: 2, lasting: r.Below(5)}
-			s, trees := c.lay(&r, g)
+			g := grove.Any(&r, height)
+			c := grove.Setting{Refs: 4, More: 300, Clones: 2, Lasting: r.Below(5)}
+			s, trees := c.Lay(&r, g)
 			v := vaultOf(t, s)
 			for k := range 24 {
 				at := k % len(trees)
 				others := slices.Delete(slices.Clone(trees), at, at+1)
-				y, _, e := holds(t, v, trees[at], someKeyOf(&r, g), someValue(&r, 1), others...)
+				y, _, e := holds(t, v, trees[at], g.SomeKey(&r), someValue(&r, 1), others...)
 				if equal(t, "Put", e == 0 || e == errRefs, true); e == 0 {
 					trees[at] = y
 				}
@@ -198,11 +198,11 @@ func TestP15_6OwnPages(t *testing.T) {
 	t.Parallel()
 	r := draw.Numbers(164)
 	for round := range 120 {
-		g := someTree(&r, 1+round%4)
-		c := setting{refs: 3, more: 12}
-		s, _ := c.lay(&r, g)
+		g := grove.Any(&r, 1+round%4)
+		c := grove.Setting{Refs: 3, More: 12}
+		s, _ := c.Lay(&r, g)
 		v := vaultOf(t, s)
-		key, val := someKeyOf(&r, g), someValue(&r, 1)
+		key, val := g.SomeKey(&r), someValue(&r, 1)
 		way, _ := walk.Path(v, g.Tree, key)
 		y, did, e := holds(t, v, g.Tree, key, val)
 		equal(t, "Put", e, 0)
@@ -224,13 +224,13 @@ func TestP15_6OneShadowEach(t *testing.T) {
 	t.Parallel()
 	r := draw.Numbers(165)
 	for round := range 120 {
-		g := someTree(&r, 1+round%4)
-		c := setting{refs: 5, more: 30, lasting: 4}
+		g := grove.Any(&r, 1+round%4)
+		c := grove.Setting{Refs: 5, More: 30, Lasting: 4}
 		if round%3 == 0 {
-			c = setting{refs: 5, more: 30, clones: 1}
+			c = grove.Setting{Refs: 5, More: 30, Clones: 1}
 		}
-		s, trees := c.lay(&r, g)
-		_, did, e := holds(t, vaultOf(t, s), g.Tree, someKeyOf(&r, g), nil, trees[1:]...)
+		s, trees := c.Lay(&r, g)
+		_, did, e := holds(t, vaultOf(t, s), g.Tree, g.SomeKey(&r), nil, trees[1:]...)
 		equal(t, "Put", e, 0)
 		equal(t, "shadows", did.shadows, g.Tree.Height)
 	}
@@ -243,10 +243,10 @@ func TestP15_7Height(t *testing.T) {
 	for n := 1; n <= 70; n++ {
 		for _, take := range []grove.Share{grove.Few, grove.Many, grove.Some(&r)} {
 			g := grove.Grow(&r, grove.Pairs(&r, n, 0), take)
-			c := setting{refs: 3, more: 30}
-			s, _ := c.lay(&r, g)
+			c := grove.Setting{Refs: 3, More: 30}
+			s, _ := c.Lay(&r, g)
 			isFull := len(g.Pages[g.Tree.Root-1].Items) == most
-			for _, key := range [][]byte{g.Pairs[r.Below(n)].Key, someKeyOf(&r, g)} {
+			for _, key := range [][]byte{g.Pairs[r.Below(n)].Key, g.SomeKey(&r)} {
 				y, _, e := put.Put(vaultOf(t, s), g.Tree, key, []byte("v"))
 				equal(t, "Put", e, 0)
 				equal(t, fmt.Sprintf("%d keys: is it higher", n), y.Height == g.Tree.Height+1, isFull)
@@ -275,12 +275,12 @@ func TestEveryHeight(t *testing.T) {
 	for h := 1; h <= grove.Highest; h++ {
 		g := grove.Grow(&r, grove.Pairs(&r, grove.Fewest(h), 20000), grove.Few)
 		equal(t, "Height", g.Tree.Height, h)
-		c := setting{refs: 3, more: 40, clones: h % 2, lasting: r.Below(5)}
-		s, trees := c.lay(&r, g)
+		c := grove.Setting{Refs: 3, More: 40, Clones: h % 2, Lasting: r.Below(5)}
+		s, trees := c.Lay(&r, g)
 		v := vaultOf(t, s)
 		x := trees[0]
 		for range 3 {
-			key, val := someKeyOf(&r, g), someValue(&r, 1)
+			key, val := g.SomeKey(&r), someValue(&r, 1)
 			want, wantTree, did, wantE := modelPut(grove.StoreFrom(v), x, key, val)
 			y, is, e := put.Put(v, x, key, val)
 			equal(t, "Put", fmt.Sprint(y, is, e), fmt.Sprint(wantTree, did.there, wantE))

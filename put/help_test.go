@@ -47,14 +47,7 @@ func tree(root, height, items int) api.Tree {
 	return api.Tree{Root: root, Height: height, Items: items}
 }
 
-// value is n bytes in which no two pages' parts are alike.
-func value(n int) []byte {
-	b := make([]byte, n)
-	for i := range b {
-		b[i] = byte(i*7 + i/251 + n)
-	}
-	return b
-}
+func value(n int) []byte { return grove.Value(n) }
 
 // pagesOf is how many pages a value takes, counted one by one.
 func pagesOf(value []byte) int {

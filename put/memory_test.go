@@ -7,6 +7,7 @@ import (
 
 	"coppice/api"
 	"coppice/draw"
+	"coppice/grove"
 	"coppice/put"
 	"coppice/view"
 )
@@ -37,14 +38,14 @@ func turn(b []byte) {
 func TestR4WhatIsHandedIn(t *testing.T) {
 	r, met := draw.Numbers(181), map[api.Errno]int{}
 	for round := range 300 {
-		g := someTree(&r, 1+round%3)
-		c := settings(&r)
-		s, trees := c.lay(&r, g)
+		g := grove.Any(&r, 1+round%3)
+		c := grove.Settings(&r)
+		s, trees := c.Lay(&r, g)
 		x := trees[0]
 		if round%5 == 0 {
 			x = empty
 		}
-		k, val := someKeyOf(&r, g), someValue(&r, 3)
+		k, val := g.SomeKey(&r), someValue(&r, 3)
 		switch round % 50 {
 		case 1:
 			k = make([]byte, maxKey+1)

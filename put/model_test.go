@@ -115,7 +115,7 @@ func (m *putter) split(n int) (int, []byte, api.Errno) {
 	if left.Kind == indexKind {
 		right.Items[0].Key = nil
 	} else {
-		sep = shortest(left.Items[least-1].Key, sep)
+		sep = grove.Shortest(left.Items[least-1].Key, sep)
 	}
 	m.On[n-1] = left
 	m.splits++
@@ -123,45 +123,12 @@ func (m *putter) split(n int) (int, []byte, api.Errno) {
 	return half, sep, e
 }
 
-// shortest is the shortest key above a and not above b, of those of one length the least.
-func shortest(a, b []byte) []byte {
-	for n := 1; n <= maxKey; n++ {
-		k := append(bytes.Clone(a), make([]byte, maxKey)...)[:n]
-		if n <= len(a) { // the least row of n bytes above a is what comes next behind its beginning
-			at := n - 1
-			for at > 0 && k[at] == 0xff {
-				at--
-			}
-			if k[at] == 0xff {
-				continue
-			}
-			k[at]++
-			clear(k[at+1:])
-		}
-		if bytes.Compare(k, b) <= 0 {
-			return k
-		}
-	}
-	panic("no key between them")
-}
-
-// lies is the number of the item in whose range a key lies.
-func lies(p api.Page, key []byte) int {
-	at := 0
-	for k, i := range p.Items {
-		if k > 0 && bytes.Compare(i.Key, key) <= 0 {
-			at = k
-		}
-	}
-	return at
-}
-
 // descend goes from the root down to the leaf.
 func (m *putter) descend(t api.Tree, key []byte) (int, api.Errno) {
 	n := t.Root
 	for m.On[n-1].Kind == indexKind {
 		p := m.Page(n)
-		at := lies(p, key)
+		at := grove.Lies(p, key)
 		child, e := m.shadow(p.Items[at].Child)
 		if e != 0 {
 			m.failed = "child"
@@ -177,7 +144,7 @@ func (m *putter) descend(t api.Tree, key []byte) (int, api.Errno) {
 			p.Items = slices.Insert(p.Items, at+1, api.Item{Key: sep, Child: right})
 		}
 		m.On[n-1] = p
-		n = p.Items[lies(p, key)].Child
+		n = p.Items[grove.Lies(p, key)].Child
 	}
 	return n, 0
 }

@@ -53,8 +53,8 @@ func TestP15_1NoKeyNoValue(t *testing.T) {
 	r := draw.Numbers(151)
 	for _, g := range grove.Trees(&r, 3) {
 		for _, more := range []int{0, 40} {
-			c := setting{refs: 3, more: more, lasting: r.Below(5)}
-			s, _ := c.lay(&r, g)
+			c := grove.Setting{Refs: 3, More: more, Lasting: r.Below(5)}
+			s, _ := c.Lay(&r, g)
 			v := vaultOf(t, s)
 			for _, n := range []int{0, maxKey + 1, 256 + maxKey, 1<<16 + 3} {
 				for _, size := range []int{0, inline + 1, maxValue, maxValue + 1, 1 << 16} {
@@ -76,8 +76,8 @@ func TestP15_2Lengths(t *testing.T) {
 	r := draw.Numbers(152)
 	for _, g := range grove.Trees(&r, 2) {
 		for n := 1; n <= maxKey; n++ {
-			c := setting{refs: 3, more: 30, clones: n % 2, lasting: r.Below(5)}
-			s, trees := c.lay(&r, g)
+			c := grove.Setting{Refs: 3, More: 30, Clones: n % 2, Lasting: r.Below(5)}
+			s, trees := c.Lay(&r, g)
 			v := vaultOf(t, s)
 			_, _, e := holds(t, v, g.Tree, bytes.Repeat([]byte{byte(r.Below(256))}, n), value(r.Below(50)), trees[1:]...)
 			equal(t, "a key of any length", e, 0)
@@ -87,8 +87,8 @@ func TestP15_2Lengths(t *testing.T) {
 			sizes = append(sizes, n*chunk-1, n*chunk, min(n*chunk+1, maxValue))
 		}
 		for _, size := range sizes {
-			c := setting{refs: 3, more: 30, clones: size % 2, lasting: r.Below(5)}
-			s, trees := c.lay(&r, g)
+			c := grove.Setting{Refs: 3, More: 30, Clones: size % 2, Lasting: r.Below(5)}
+			s, trees := c.Lay(&r, g)
 			v := vaultOf(t, s)
 			x, did, e := holds(t, v, g.Tree, []byte("new"), value(size), trees[1:]...)
 			equal(t, "a value of any length", e, 0)
@@ -132,43 +132,20 @@ func (k kinds) wants(t *testing.T, n int, what ...string) {
 	}
 }
 
-// someTree is a tree of a height, of any kind: with as few items as can be, and full
-// along one edge or all over, too.
-func someTree(r *draw.Numbers, height int) *grove.Grown {
-	few := grove.Fewest(height)
-	full := 1
-	for range height {
-		full *= most
-	}
-	switch r.Below(6) {
-	case 0:
-		return grove.Grow(r, grove.Pairs(r, few, 5000), grove.Few)
-	case 1:
-		return grove.Grow(r, grove.Pairs(r, grove.Edge(height), 5000), grove.Left)
-	case 2:
-		return grove.Grow(r, grove.Pairs(r, grove.Edge(height), 5000), grove.Right)
-	case 3:
-		if full < 1000 {
-			return grove.Grow(r, grove.Pairs(r, full, 5000), grove.Many)
-		}
-	}
-	return grove.Grow(r, grove.Pairs(r, few+r.Below(few), 5000), grove.Some(r))
-}
-
 // Trees of each height up to 4 in settings of all kinds; keys that are there and such
 // that are not.
 func TestP15_2Settings(t *testing.T) {
 	t.Parallel()
 	r, met := draw.Numbers(153), kinds{}
 	for round := range 600 {
-		g := someTree(&r, 1+round%4)
+		g := grove.Any(&r, 1+round%4)
 		if round%40 == 0 {
 			g = grove.Grow(&r, nil, grove.Few)
 		}
 		for range 4 {
-			s, trees := settings(&r).lay(&r, g)
+			s, trees := grove.Settings(&r).Lay(&r, g)
 			v := vaultOf(t, s)
-			_, did, e := holds(t, v, g.Tree, someKeyOf(&r, g), someValue(&r, 3), trees[1:]...)
+			_, did, e := holds(t, v, g.Tree, g.SomeKey(&r), someValue(&r, 3), trees[1:]...)
 			met.add(g.Tree, did, e)
 		}
 	}
@@ -190,20 +167,6 @@ func TestP15_2Settings(t *testing.T) {
 	}
 }
 
-// someKeyOf is a key of a tree, or one that lies at or beside its keys and separators.
-func someKeyOf(r *draw.Numbers, g *grove.Grown) []byte {
-	if n := len(g.Pairs); n > 0 && r.Below(2) == 0 {
-		near := r.Below(min(n, 24)) // the edges are full here and there
-		return g.Pairs[[]int{0, n - 1, near, n - 1 - near, r.Below(n)}[r.Below(5)]].Key
-	}
-	rows := g.Rows(r, 12)
-	for {
-		if row := rows[r.Below(len(rows))]; len(row) > 0 && len(row) <= maxKey {
-			return row
-		}
-	}
-}
-
 // Each place in a full leaf, and in one that is not, beneath a full index and one that
 // is not: the key goes to the half in whose range it lies.
 func TestP15_2EachPlace(t *testing.T) {
@@ -216,8 +179,8 @@ func TestP15_2EachPlace(t *testing.T) {
 		}
 		r := draw.Numbers(154)
 		for _, take := range []grove.Share{grove.Few, grove.Many} {
-			for _, c := range []setting{{refs: 3, more: 20}, {refs: 3, more: 20, clones: 1}, {refs: 3, more: 20, lasting: 4}} {
-				s, trees := c.lay(&r, grove.Grow(&r, l, take))
+			for _, c := range []grove.Setting{{Refs: 3, More: 20}, {Refs: 3, More: 20, Clones: 1}, {Refs: 3, More: 20, Lasting: 4}} {
+				s, trees := c.Lay(&r, grove.Grow(&r, l, take))
 				for k := 1; k <= int(letter(n)); k++ {
 					_, did, e := holds(t, vaultOf(t, s), trees[0], []byte{byte(k)}, []byte("v"), trees[1:]...)
 					equal(t, "Put", e, 0)
@@ -257,19 +220,19 @@ func TestP15_2Replaced(t *testing.T) {
 	sizes := []int{0, 1, inline, inline + 1, chunk, chunk + 1, 2 * chunk, maxValue}
 	for _, from := range sizes {
 		for _, to := range sizes {
-			for _, c := range []setting{{lasting: 0}, {lasting: 4}, {clones: 1}, {clones: 1, lasting: 4}, {lasting: 2, shared: 2}} {
-				c.refs, c.more = 4, 30
+			for _, c := range []grove.Setting{{Lasting: 0}, {Lasting: 4}, {Clones: 1}, {Clones: 1, Lasting: 4}, {Lasting: 2, Shared: 2}} {
+				c.Refs, c.More = 4, 30
 				l := grove.Pairs(&r, 1+r.Below(30), 2000)
 				at := r.Below(len(l))
 				l[at].Value = value(from)
-				s, trees := c.lay(&r, grove.Grow(&r, l, grove.Some(&r)))
+				s, trees := c.Lay(&r, grove.Grow(&r, l, grove.Some(&r)))
 				v := vaultOf(t, s)
 				y, did, e := holds(t, v, trees[0], l[at].Key, value(to), trees[1:]...)
 				equal(t, "Put", e, 0)
 				equal(t, "there", did.there, true)
 				equal(t, "Items", y.Items, len(l))
 				equal(t, "pages that went", did.from, pagesOf(value(from)))
-				if c.lasting+c.clones == 0 { // the new value's pages, and one more for each split and the root
+				if c.Lasting+c.Clones == 0 { // the new value's pages, and one more for each split and the root
 					equal(t, "Fresh", v.Tally(fresh)-s.Tally(fresh), pagesOf(value(to))-pagesOf(value(from))+did.splits+y.Height-trees[0].Height)
 				}
 			}

@@ -11,34 +11,20 @@ import (
 	"coppice/walk"
 )
 
-// leave takes free pages of a store away, from any place, until so many are left.
-func leave(r *draw.Numbers, s *grove.Store, n int) {
-	for _, page := range grove.Shuffle(r, len(s.Counts)) {
-		if s.Tally(free) == n {
-			return
-		}
-		if s.State(page) == free {
-			s.On[page-1] = api.Page{Kind: blobKind, Data: value(5)}
-			s.Counts[page-1] = page % 2
-			s.Lasts[page-1] = 1 - page%2*r.Below(2)
-		}
-	}
-}
-
 // Just as many free pages as P15.5 asks for, and each number below: where it is lacking,
 // the model tells, and with so many as it asks for nothing is lacking.
 func TestP15_5EachRoom(t *testing.T) {
 	t.Parallel()
 	r, met := draw.Numbers(171), kinds{}
 	for round := range 60 {
-		g := someTree(&r, 1+round%3)
-		c := setting{refs: 4, more: 30, lasting: []int{4, 4, 0, 2}[round%4], clones: round % 2}
-		base, trees := c.lay(&r, g)
-		key, val := someKeyOf(&r, g), someValue(&r, 3)
+		g := grove.Any(&r, 1+round%3)
+		c := grove.Setting{Refs: 4, More: 30, Lasting: []int{4, 4, 0, 2}[round%4], Clones: round % 2}
+		base, trees := c.Lay(&r, g)
+		key, val := g.SomeKey(&r), someValue(&r, 3)
 		bound := 2*g.Tree.Height + 1 + pagesOf(val)
 		for n := range bound + 1 {
 			s := base.Copy()
-			leave(&r, s, n)
+			s.Leave(&r, n)
 			equal(t, "Free", s.Tally(free), n)
 			_, did, e := holds(t, vaultOf(t, s), g.Tree, key, val, trees[1:]...)
 			if n == bound {
@@ -58,21 +44,21 @@ func TestP15_5NoPageTooMany(t *testing.T) {
 	r := draw.Numbers(172)
 	for h := 1; h <= 5; h++ {
 		for _, take := range []grove.Share{grove.Left, grove.Right} {
-			for _, c := range []setting{{lasting: 4}, {clones: 1}, {lasting: 4, clones: 1}} {
-				c.refs, c.more = 3, 40
+			for _, c := range []grove.Setting{{Lasting: 4}, {Clones: 1}, {Lasting: 4, Clones: 1}} {
+				c.Refs, c.More = 3, 40
 				g := grove.Grow(&r, grove.Pairs(&r, grove.Edge(h), 3000), take)
 				at := g.Pairs[0].Key
 				if way := g.Path(at); len(g.Pages[way[h-1]-1].Items) < most {
 					at = g.Pairs[len(g.Pairs)-1].Key
 				}
-				base, _ := c.lay(&r, g)
+				base, _ := c.Lay(&r, g)
 				for _, size := range []int{0, inline + 1, maxValue} {
 					bound := 2*h + 1 + pagesOf(value(size))
 					s := base.Copy()
-					leave(&r, s, bound-1)
+					s.Leave(&r, bound-1)
 					putsNot(t, vaultOf(t, s), g.Tree, at, value(size), errSpace)
 					s = base.Copy()
-					leave(&r, s, bound)
+					s.Leave(&r, bound)
 					v := vaultOf(t, s)
 					y, is, e := put.Put(v, g.Tree, at, value(size))
 					equal(t, "Put", fmt.Sprint(y.Height, y.Items, is, e), fmt.Sprint(h+1, len(g.Pairs), true, api.OK))
@@ -89,15 +75,15 @@ func TestP15_5Refs(t *testing.T) {
 	t.Parallel()
 	r, met := draw.Numbers(173), map[api.Errno]int{}
 	for round := range 24 {
-		g := someTree(&r, 1+round%3)
-		c := setting{refs: 2 + round%4, more: 40, lasting: r.Below(5)}
-		base, _ := c.lay(&r, g)
+		g := grove.Any(&r, 1+round%3)
+		c := grove.Setting{Refs: 2 + round%4, More: 40, Lasting: r.Below(5)}
+		base, _ := c.Lay(&r, g)
 		v := vaultOf(t, base)
 		led := grove.Led(v, g.Tree)
 		for n := range led {
-			base.Counts[n-1] = c.refs - 1
+			base.Counts[n-1] = c.Refs - 1
 		}
-		key, val := someKeyOf(&r, g), someValue(&r, 1)
+		key, val := g.SomeKey(&r), someValue(&r, 1)
 		_, _, e := holds(t, vaultOf(t, base), g.Tree, key, val)
 		equal(t, "no count is above Refs - 1", e, 0)
 		for n := 1; n <= len(base.Counts); n++ {
@@ -105,7 +91,7 @@ func TestP15_5Refs(t *testing.T) {
 				continue
 			}
 			s := base.Copy()
-			s.Counts[n-1] = c.refs
+			s.Counts[n-1] = c.Refs
 			_, _, e := holds(t, vaultOf(t, s), g.Tree, key, val)
 			met[e]++
 		}

@@ -5,7 +5,6 @@ import (
 	"testing"
 
 	"coppice/api"
-	"coppice/draw"
 	"coppice/grove"
 	"coppice/put"
 	"coppice/vault"
@@ -117,50 +116,4 @@ func again(t *testing.T, before, then *grove.Store, v *vault.Vault, mark int, do
 	equal(t, "a page that is not as it was, behind Undo", before.Differs(v), 0)
 	do()
 	equal(t, "a page that is another one the second time", then.Differs(v), 0)
-}
-
-// setting is how a tree lies in a store.
-type setting struct {
-	refs, clones int
-	more         int // free pages behind those of the tree
-	lasting      int // of 4 pages so many last
-	shared       int // of 4 pages so many are led to from elsewhere too
-}
-
-// settings is settings of all kinds; of each, too few free pages too.
-func settings(r *draw.Numbers) setting {
-	return setting{
-		refs: 2 + r.Below(3), clones: r.Below(3) / 2, more: []int{0, 1, 2, 3, 4, 6, 9, 30, 30, 30, 30, 30}[r.Below(12)],
-		lasting: r.Below(5), shared: []int{0, 0, 0, 1, 2, 4}[r.Below(6)],
-	}
-}
-
-// lay is a store with the tree, which stands there, and with clones of it, all of which
-// stand there together.
-func (c setting) lay(r *draw.Numbers, g *grove.Grown) (*grove.Store, []api.Tree) {
-	s := grove.StoreOf(c.refs, g.Pages, c.more)
-	trees := []api.Tree{g.Tree}
-	for range c.clones {
-		trees = append(trees, g.Tree)
-		if g.Tree.Root != 0 {
-			s.Counts[g.Tree.Root-1]++
-		}
-	}
-	for k, p := range s.On {
-		if p.Kind != 0 {
-			s.Lasts[k] = has(r, c.lasting)
-			s.Counts[k] = min(c.refs, s.Counts[k]+has(r, c.shared)*(1+r.Below(2)))
-		} else if r.Below(5) == 0 { // something lasts there to which nothing leads any more
-			s.On[k], s.Lasts[k] = api.Page{Kind: blobKind, Data: value(9)}, 1
-		}
-	}
-	return s, trees
-}
-
-// has is 1 so many times of 4, else 0.
-func has(r *draw.Numbers, times int) int {
-	if r.Below(4) < times {
-		return 1
-	}
-	return 0
 }
